@@ -1,0 +1,73 @@
+"""The examples of the interface, as they stand in DOC.md."""
+
+import doctest
+import unittest
+
+EXAMPLES = (
+    """
+>>> from endsmeet.notation import read_piece, write_piece
+>>> from endsmeet.pieces import amounts_of, free_ends, rings
+>>> from endsmeet.sheets import Sheet
+>>> sheet = Sheet({'a': 'b', 'b': 'a', 'c': 'c'}, {'rod': ('a', 'b'), 'cup': ('a', 'b', 'c')})
+>>> piece = read_piece(sheet, 'cup(0-1 rod(0@1), 1@1)')
+>>> [piece.blocks, piece.links, free_ends(sheet, piece), rings(sheet, piece), amounts_of(sheet, piece), write_piece(sheet, piece)]
+[('cup', 'rod'), (((0, 0), (1, 1)), ((0, 1), (1, 0))), [(0, 2)], 1, {'cup': 1, 'rod': 1}, 'cup(0-1 rod(0@1), 1@1)']
+""",
+    """
+>>> from endsmeet.notation import read_piece
+>>> from endsmeet.sameness import same, turns
+>>> from endsmeet.sheets import Sheet
+>>> sheet = Sheet({'a': 'b', 'b': 'a'}, {'hub': ('b', 'b', 'b'), 'cap': ('a',)})
+>>> piece = read_piece(sheet, 'hub(0-0 cap, 1-0 cap)')
+>>> [turns(sheet, piece), same(sheet, piece, read_piece(sheet, 'cap(0-2 hub(0-0 cap))')) is None]
+[2, False]
+""",
+    """
+>>> from endsmeet.closing import always_one, least_closings, most
+>>> from endsmeet.sheets import Sheet
+>>> sheet = Sheet({'a': 'b', 'b': 'a'}, {'fork': ('a', 'a'), 'cup': ('b',), 'rod': ('a', 'b')})
+>>> [least_closings(sheet), always_one(sheet, {'fork': 1, 'cup': 2}), len(most(sheet, {'fork': 1, 'cup': 2, 'rod': 3}).parts)]
+[[{'cup': 0, 'fork': 0, 'rod': 1}, {'cup': 2, 'fork': 1, 'rod': 0}], True, 4]
+""",
+    """
+>>> from endsmeet.finishing import finish
+>>> from endsmeet.pieces import Piece
+>>> from endsmeet.sheets import Sheet
+>>> sheet = Sheet({'a': 'b', 'b': 'a'}, {'cup': ('b',), 'fork': ('a', 'a', 'b'), 'cap': ('a',)})
+>>> finish(sheet, Piece(['fork'], []), {'cup': 5, 'fork': 0, 'cap': 2}).price
+12
+""",
+    """
+>>> from endsmeet.chances import chance_of_one, expected_of, expected_pieces, ways
+>>> from endsmeet.notation import read_piece
+>>> from endsmeet.sheets import Sheet
+>>> sheet = Sheet({'c': 'c'}, {'rod': ('c', 'c')})
+>>> ring = read_piece(sheet, 'rod(0@1, 1@1)')
+>>> [ways(sheet, {'rod': 3}), chance_of_one(sheet, {'rod': 3}), expected_pieces(sheet, {'rod': 3}), expected_of(sheet, {'rod': 3}, ring)]
+[15, (8, 15), (23, 15), (3, 5)]
+""",
+    """
+>>> from endsmeet.bridging import bridge
+>>> from endsmeet.sheets import Sheet
+>>> sheet = Sheet({'a': 'b', 'b': 'a', 'c': 'c'}, {'rod': ('a', 'b'), 'tee': ('a', 'c', 'b'), 'cup': ('a',)})
+>>> bridge(sheet, 'a', 'c', {'rod': 1, 'tee': 4, 'cup': 9}).price
+13
+""",
+    """
+>>> from endsmeet.sheets import Sheet
+>>> from endsmeet.supplies import Kept, supply
+>>> from endsmeet.trees import InTree, in_tree, tops
+>>> sheet = Sheet({'a': 'b', 'b': 'a'}, {'two': ('a', 'a'), 'rod': ('a', 'b')})
+>>> [isinstance(supply(sheet, 'two'), Kept), isinstance(supply(sheet, 'rod'), Kept), isinstance(in_tree(sheet, 'rod'), InTree), tops(sheet)]
+[True, False, False, {}]
+""",
+)
+
+
+class Examples(unittest.TestCase):
+    def test_examples(self):
+        for number, told in enumerate(EXAMPLES):
+            test = doctest.DocTestParser().get_doctest(told, {}, f'example {number}', None, 0)
+            runner = doctest.DocTestRunner(verbose=False)
+            runner.run(test)
+            self.assertEqual((runner.failures, runner.tries), (0, len(test.examples)), told)
