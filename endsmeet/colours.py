@@ -120,7 +120,8 @@ def components(net, nodes):
         part = [first]
         at = 0
         while at < len(part):
-            for other in net.near[part[at]]:
+            near = net.near[part[at]]
+            for other in near:
                 if other in nodes and other not in seen:
                     seen[other] = True
                     part.append(other)
