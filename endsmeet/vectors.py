@@ -25,7 +25,8 @@ def is_even_vector(rows, vector):
     """Whether a vector has no excess."""
     for row, is_own in rows:
         value = product_of(row, vector)
-        if value & 1 if is_own else value:
+        left = value & 1 if is_own else value
+        if left != 0:
             return False
     return True
 

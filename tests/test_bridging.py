@@ -160,9 +160,29 @@ class Bridging(unittest.TestCase):
             dict(paths, c=24), dict(paths, b=-1), dict(paths, a=-13), {'a': 13, 'b': 10, 3: 23},
         ):
             self.assertIs(shown(paths=told), False, told)
+        # These bound all prices from below, but the told one is greater.
+        self.assertIs(shown(paths={'a': 12, 'b': 10, 'c': 22}), False)
         self.assertIs(good.shows(FULL, 'c', 'a', ALL_PRICES), False)
         self.assertIs(good.shows(FULL, 'a', 'b', ALL_PRICES), False)
         self.assertIs(good.shows(FULL, 'a', 'c', dict(ALL_PRICES, cup=8)), False)
+
+    def test_shows_where_all_pieces_cost_alike(self):
+        prices = {name: 0 for name in FULL}
+        good = bridge(FULL, 'a', 'c', prices)
+        for told, wanted in (
+            ('tee(2-0 cup)', True), ('tee(2-0 rod(1-0 cup))', True), ('rod(1-0 tee(2-0 cup))', True),
+            ('tee(1-1 tee(0-0 cap, 2-0 cup), 2-0 cup)', False), ('rod', False), ('tee', False), ('cup', False),
+            ('tee(0-0 cap)', False), ('tee(1-1 tee(2-0 cup), 2-0 cup)', False), ('tee(0@1, 2@1)', False),
+            ('tee(1-1 tee(2-0 cup))', False), ('cup(0-1 rod(0-0 cap))', False),
+            ('tee(1@1, 2-0 tee(1@1, 2-0 cup))', False),
+        ):
+            good.piece = read_piece(FULL, told)
+            self.assertIs(good.shows(FULL, 'a', 'c', prices), wanted, told)
+        dear = {name: 1 for name in SHEET}
+        good = bridge(SHEET, 'a', 'b', dear)
+        self.assertTrue(good.shows(SHEET, 'a', 'b', dear))
+        good.price = True
+        self.assertIs(good.shows(SHEET, 'a', 'b', dear), False)
 
     def test_equal_and_copied(self):
         piece, bounds, paths = Piece(['rod'], []), {'a': 1}, {'a': 2}

@@ -121,6 +121,37 @@ class MostPieces(unittest.TestCase):
                 self.assertIs(always_one(sheet, amounts), set(many) == {1})
                 checked += 1
 
+    def test_held_against_plain_search(self):
+        def greatest(vectors, amounts, known):
+            """The greatest number of parts, by all first parts."""
+            if amounts not in known:
+                rests = [tuple(many - less for many, less in zip(amounts, part)) for part in vectors if any(part)]
+                known[amounts] = max(
+                    (1 + greatest(vectors, rest, known) for rest in rests if min(rest) >= 0), default=0)
+            return known[amounts]
+
+        rnd = seeded(15)
+        unlike = 0
+        for _ in range(80):
+            sheet = random_sheet(rnd, rnd.randint(1, 3), 4)
+            amounts = {name: rnd.randint(0, 6) for name in sheet}
+            vectors = [tuple(some.values()) for some in all_amounts(sheet.names(), 6) if has_piecing(sheet, some)]
+            vectors = [vector for vector in vectors if all(a <= b for a, b in zip(vector, amounts.values()))]
+            amounts = dict(zip(sheet.names(), max(vectors, key=sum)))
+            if any(amounts.values()):
+                found = most(sheet, amounts)
+                self.assertTrue(found.shows(sheet, amounts))
+                self.assertEqual(len(found.parts), greatest(vectors, tuple(amounts.values()), {}))
+                unlike += len(found.parts) > 1
+        self.assertGreater(unlike, 20)
+
+    def test_large_parts_may_be_fewer(self):
+        sheet = Sheet(AB, {'left': ('a', 'a', 'a'), 'cap': ('b',), 'cup': ('a',), 'right': ('b', 'b', 'b')})
+        amounts = {'left': 1, 'cap': 3, 'cup': 3, 'right': 1}
+        self.assertEqual(len(most(sheet, amounts).parts), 4)
+        few = Most([{'left': 1, 'cap': 3, 'cup': 0, 'right': 0}, {'left': 0, 'cap': 0, 'cup': 3, 'right': 1}])
+        self.assertIs(few.shows(sheet, amounts), False)
+
     def test_parts(self):
         found = most(SHEET, FULL)
         self.assertEqual(len(found.parts), 4)
@@ -156,6 +187,8 @@ class MostPieces(unittest.TestCase):
             [one, two, one, one, {'cup': 0, 'fork': 0, 'rod': 0}],
             [one, two, one, {'cup': 0, 'fork': 0, 'rod': 2}, {'cup': 0, 'fork': 0, 'rod': -1}],
             [{'cup': 2, 'fork': 0, 'rod': 0}, {'cup': 0, 'fork': 1, 'rod': 0}, one, one, one],
+            [{'cup': 2, 'fork': 1, 'rod': 1}, one, one, {'cup': 0, 'fork': 0, 'rod': 0}],
+            [{'cup': 2, 'fork': 0, 'rod': 0}, {'cup': 0, 'fork': 1, 'rod': 1}, one, one],
             [one, two, one, {'cup': 0, 'fork': 0, 'rod': True}], [one, two, one, {0: 0, 'fork': 0, 'rod': 1}],
         ):
             self.assertIs(Most(parts_told).shows(SHEET, FULL), False, parts_told)

@@ -157,6 +157,25 @@ class Finishing(unittest.TestCase):
         self.assertIs(good.shows(SHEET, FORK, dict(PRICES, cup=4)), False)
         self.assertIs(good.shows(SHEET, FORK, dict(PRICES, cup=6)), False)
 
+    def test_shows_where_all_pieces_cost_alike(self):
+        prices = {name: 0 for name in SHEET}
+        good = finish(SHEET, FORK, prices)
+        cup, cap = Piece(['cup'], []), Piece(['cap'], [])
+        large = read_piece(SHEET, 'fork(0-0 cup, 2-0 cap)')
+        for trees, wanted in (
+            ([cup, cup, cap], True), ([cup, cup, large], True), ([], False), ([cup], False), ([cup, cup], False),
+            ([cup, cup, cap, cap], False), ([cup, cap, cup], False), ([cup, cup, FORK], False),
+            ([cup, cup, read_piece(SHEET, 'cup(0-0 cap)')], False), ([cup, cup, Piece(['bow'], [])], False),
+            ([cup, cup, read_piece(SHEET, 'fork(0@1, 2@1)')], False),
+        ):
+            good.trees = trees
+            self.assertIs(good.shows(SHEET, FORK, prices), wanted)
+        prices = {name: 1 for name in SHEET}
+        good = finish(SHEET, cup, prices)
+        self.assertTrue(good.shows(SHEET, cup, prices))
+        good.price = True
+        self.assertIs(good.shows(SHEET, cup, prices), False)
+
     def test_price_is_that_of_the_trees(self):
         # Bounds with the told price alone are not enough: the trees have to have it, too.
         prices = {'cup': 5, 'fork': 0, 'cap': 2}

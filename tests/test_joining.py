@@ -71,6 +71,7 @@ class Joined(unittest.TestCase):
             [one, ((1, 0), (1, True))], [one, ((1, False), (1, 1))], [((0, 0), (1, 0)), ((0, 1), (1, 1))],
             [one, ((1, 0), (1, 1), (1, 1))], [one, ((1, 0), (1, -1))], [['a'], {}], [one, 'ab'],
             [((0, 0), (1, 1)), ((0, 0), (1, 1))], [((0, 0), (0, 1)), ((0, 1), (1, 0))],
+            [((0, 0), (1, 1)), ((0, 2), (1, 0))],
         ):
             self.assertIs(is_whole_piecing(SHEET, amounts, links), False, links)
         self.assertIs(is_whole_piecing(SHEET, {'cup': 1}, []), False)

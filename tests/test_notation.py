@@ -119,6 +119,8 @@ class Reading(unittest.TestCase):
         self.bad('cup(0@1, 2@1)', 12)
         self.bad('box(0@1, 1@1, 2@1)', 17)
         self.bad('rod(0@1-', 8)
+        self.bad('box(0@1(2@2', 8)
+        self.bad('box(0-0 box, 1@1(2@1', 17)
 
     def test_marks_up_to_99(self):
         self.assertEqual(read_piece(SHEET, 'box(0@99, 3@99)'), Piece(['box'], [((0, 0), (0, 3))]))

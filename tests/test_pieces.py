@@ -78,11 +78,20 @@ class Pieces(unittest.TestCase):
         for piece in (
             Piece(['bow'], []), Piece(['cap'], [((0, 0), (0, 1))]), Piece(['rod', 'rod'], [((0, 0), (1, 0))]),
             Piece(['cap', 'rod'], [((0, 0), (1, 0))]), Piece(['rod', 'rod'], [((0, 0), (1, 2))]),
+            Piece(['rod', 'box'], [((0, 2), (1, 0))]), Piece(['cap', 'box'], [((0, 1), (1, 0))]),
         ):
             self.assertIs(is_piece_of(SHEET, piece), False)
             for ask in (free_ends, rings, amounts_of):
                 with self.assertRaises(BadPiece):
                     ask(SHEET, piece)
+
+    def test_pieces_that_were_changed(self):
+        for blocks, links in (
+            (('rod', 'rod'), ()), (('rod',), (((0, 0), (1, 1)),)), (('rod', 'ROD'), (((0, 0), (1, 1)),)), ((), ()),
+        ):
+            piece = Piece(['rod', 'rod'], [((0, 0), (1, 1))])
+            piece.blocks, piece.links = blocks, links
+            self.assertIs(is_piece_of(SHEET, piece), False)
 
     def test_no_pieces(self):
         for thing in (None, 'cup', ('rod',), ['rod'], 3, {}, SHEET):

@@ -28,6 +28,40 @@ def band(many):
     return [(at, (at + 1) % (2 * many)) for at in range(2 * many)] + [(at, many + at) for at in range(many)]
 
 
+def random_graph(rnd, many, degree):
+    """The edges of a connected graph without double edges, all of whose corners have so many neighbours."""
+    while True:
+        places = [corner for corner in range(many) for _ in range(degree)]
+        rnd.shuffle(places)
+        edges = sorted({tuple(sorted(places[at:at + 2])) for at in range(0, len(places), 2)})
+        seen = {0}
+        for _ in range(many):
+            seen.update(corner for edge in edges if seen & set(edge) for corner in edge)
+        if len(edges) == len(places) // 2 and len(seen) == many and all(one != two for one, two in edges):
+            return edges
+
+
+def graph_turns(edges, other=None):
+    """The number of maps of the corners of a graph that keep its edges, found one corner after the other."""
+    near, there = {}, {}
+    for net, told in ((near, edges), (there, other or edges)):
+        for one, two in told:
+            net.setdefault(one, set()).add(two)
+            net.setdefault(two, set()).add(one)
+
+    def count(images):
+        corner = len(images)
+        if corner == len(near):
+            return 1
+        fits = [
+            image for image in there if image not in images
+            and all((before in near[corner]) == (images[before] in there[image]) for before in range(corner))
+        ]
+        return sum(count(images + [image]) for image in fits)
+
+    return count([])
+
+
 class Turns(unittest.TestCase):
     def test_free_ends_of_a_kind_can_be_exchanged(self):
         self.assertEqual(turns(HUB, Piece(['hub'], [])), 6)
@@ -66,6 +100,17 @@ class Turns(unittest.TestCase):
             piece = random_piece(rnd, sheet, rnd.randint(1, 5), 4)
             self.assertEqual(turns(sheet, piece), len(list(maps(sheet, piece, piece))), (piece.blocks, piece.links))
 
+    def test_graphs_without_like_ends(self):
+        # All ends are linked, no two of them alike, so that turns are just the turns of the graph of the copies.
+        rnd = seeded(9)
+        found = []
+        for _ in range(60):
+            edges = random_graph(rnd, rnd.choice((6, 8, 10, 12)), 3)
+            found.append(graph_turns(edges))
+            many = 2 * len(edges) // 3
+            self.assertEqual(turns(ROUND, graph('hub', many, edges)), found[-1])
+        self.assertGreater(len(set(found)), 6)
+
     def test_errors(self):
         with self.assertRaises(BadSheet):
             turns(None, None)
@@ -99,6 +144,20 @@ class Sameness(unittest.TestCase):
             if wanted:
                 self.assertTrue(answer.shows(sheet, one, other))
         self.assertGreater(min(found.values()), 30)
+
+    def test_graphs_held_against_all_maps(self):
+        rnd = seeded(10)
+        graphs = [random_graph(rnd, 8, 3) for _ in range(25)]
+        alike = 0
+        for one in graphs:
+            for two in graphs:
+                wanted = graph_turns(one, two) > 0
+                alike += wanted
+                pieces = [graph('hub', 8, edges) for edges in (one, two)]
+                found = same(ROUND, *pieces)
+                self.assertEqual(found is not None, wanted)
+                self.assertTrue(found is None or found.shows(ROUND, *pieces))
+        self.assertGreater(25 * 25 - alike, 100)
 
     def test_pieces_whose_neighbourhoods_are_alike(self):
         for one, other in (
@@ -178,6 +237,15 @@ class Sameness(unittest.TestCase):
             altered = Same(found.copies, found.turned)
             altered.turned = turned
             self.assertIs(altered.shows(HUB, one, other), False, turned)
+
+    def test_shows_wants_blocks_and_kinds(self):
+        sheet = Sheet(AB, {'rod': ('a', 'b'), 'bar': ('a', 'b'), 'two': ('a', 'a')})
+        rod = Piece(['rod'], [])
+        self.assertIs(Same([0], [(0, 1)]).shows(sheet, rod, rod), True)
+        self.assertIs(Same([0], [(1, 0)]).shows(sheet, rod, rod), False)
+        self.assertIs(Same([0], [(0, 1)]).shows(sheet, rod, Piece(['bar'], [])), False)
+        self.assertIsNone(same(sheet, rod, Piece(['bar'], [])))
+        self.assertIs(Same([0], [(1, 0)]).shows(sheet, Piece(['two'], []), Piece(['two'], [])), True)
 
     def test_shows_wants_all_links(self):
         one = read_piece(ROUND, 'rod(0-0 rod)')
