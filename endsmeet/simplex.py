@@ -57,16 +57,17 @@ class Tableau:
         left = [at for at, row in enumerate(self.rows) if row.get(column, 0) > 0]
         key = RIGHT
         while len(left) > 1:
-            best = []
-            for at in left:
-                sign = self.compared(at, best[0], column, key) if best else -1
-                if sign < 0:
-                    best = [at]
-                elif sign == 0:
-                    best.append(at)
-            left = best
+            left = self.least_rows(left, column, key)
             key = self.width if key == RIGHT else key + 1
         return left[0]
+
+    def least_rows(self, rows, column, key):
+        """Those of some rows that have least at a key, each for one at a column, in their order."""
+        best = rows[0]
+        for at in rows[1:]:
+            if self.compared(at, best, column, key) < 0:
+                best = at
+        return [at for at in rows if self.compared(at, best, column, key) == 0]
 
     def compared(self, at, best, column, key):
         """Less than 0, if a row has less at a key than another one, both for one at a column; 0, if as much."""

@@ -30,6 +30,8 @@ STATEMENTS = (
 WORDS = re.compile(
     r'\b(type|typing|enum|Enum|Flag|Generic|Protocol|ABC|namedtuple|NamedTuple|register|mro|elements|open|input|law)\b'
 )
+MODIFIERS = {'append', 'clear', 'extend', 'insert', 'pop', 'remove', 'reverse', 'setdefault', 'update', 'add', 'discard'}
+HEAPS = {'heappush', 'heappop', 'heapify', 'heapreplace', 'heappushpop'}
 AT_ONCE = {'zip', 'enumerate', 'reversed', 'range', 'items', 'keys', 'values', 'map'}
 
 
@@ -69,6 +71,66 @@ def is_iterated_at_once(node):
         return parent.func.id in ('list', 'tuple', 'dict', 'sorted', 'sum', 'any', 'all', 'enumerate', 'zip')
     # A range may be kept in a variable.
     return isinstance(parent, ast.Assign) and isinstance(node.func, ast.Name) and node.func.id == 'range'
+
+
+def places(node):
+    """The names and attributes of which a value may be one, as they are written."""
+    if isinstance(node, (ast.Name, ast.Attribute)):
+        return [ast.unparse(node)]
+    if isinstance(node, ast.IfExp):
+        return places(node.body) + places(node.orelse)
+    if isinstance(node, ast.BoolOp):
+        return [place for part in node.values for place in places(part)]
+    return []
+
+
+def walked(node):
+    """The names and attributes that a loop goes over."""
+    if isinstance(node, ast.Call):
+        if isinstance(node.func, ast.Name) and node.func.id in AT_ONCE:
+            return [place for part in node.args for place in walked(part)]
+        if isinstance(node.func, ast.Attribute) and node.func.attr in AT_ONCE:
+            return places(node.func.value)
+    return places(node)
+
+
+def changed(node):
+    """The names and attributes of what a node of a tree changes."""
+    if isinstance(node, ast.Subscript) and isinstance(node.ctx, (ast.Store, ast.Del)):
+        return places(node.value)
+    if isinstance(node, ast.AugAssign):
+        return places(node.target)
+    if isinstance(node, ast.Call):
+        if isinstance(node.func, ast.Attribute) and node.func.attr in MODIFIERS:
+            return places(node.func.value)
+        if isinstance(node.func, ast.Name) and node.func.id in HEAPS:
+            return places(node.args[0])
+    return []
+
+
+def alike(function):
+    """For each name and attribute of a function the others that may be the same list, by plain assignments."""
+    group = {}
+    for node in ast.walk(function):
+        if isinstance(node, ast.Assign):
+            told = [place for part in node.targets + [node.value] for place in places(part)]
+            whole = {place for one in told for place in group.get(one, {one})}
+            group.update({place: whole for place in whole})
+    return group
+
+
+def changed_loops(tree):
+    """The rows of a file where a loop changes what it goes over, perhaps by another name."""
+    for function in ast.walk(tree):
+        if isinstance(function, ast.FunctionDef):
+            group = alike(function)
+            for loop in ast.walk(function):
+                if isinstance(loop, ast.For):
+                    over = {place for one in walked(loop.iter) for place in group.get(one, {one})}
+                    for row in loop.body:
+                        for node in ast.walk(row):
+                            if over.intersection(changed(node)):
+                                yield node.lineno
 
 
 class Language(unittest.TestCase):
@@ -226,6 +288,21 @@ class Language(unittest.TestCase):
             for node in ast.walk(tree):
                 if isinstance(node, ast.Call) and getattr(node.func, 'id', None) in ('set', 'frozenset'):
                     self.assertIn(getattr(getattr(node.parent, 'func', None), 'id', None), ('sorted', 'len'), name)
+
+    def test_loops_do_not_change_what_they_go_over(self):
+        for name, tree in trees():
+            self.assertEqual(list(changed_loops(tree)), [], name)
+
+    def test_loops_that_do_are_found(self):
+        for told in (
+            'for at in left:\n        left.append(at)',
+            'for at in left:\n        best.append(at)\n    left = best',
+            'best = left if left else []\n    for at in enumerate(left):\n        best[0] = at',
+            'self.rows = left\n    for at in self.rows:\n        heappush(left, at)',
+        ):
+            self.assertEqual(len(list(changed_loops(ast.parse(f'def told(self, left, best):\n    {told}')))), 1, told)
+        kept = 'def told(left):\n    for at in list(left):\n        left.append(at)'
+        self.assertEqual(list(changed_loops(ast.parse(kept))), [])
 
     def test_words(self):
         for name, tree in trees():

@@ -72,6 +72,25 @@ class Supplies(unittest.TestCase):
             for name in names[:4]:
                 self.assertTrue(supply(sheet, name).shows(sheet, name))
 
+    def test_rows_that_have_as_much(self):
+        # Which of the rows with equal shares gives way decides which evidence is found; it is to stay the same.
+        partners = {'a': 'b', 'b': 'a', 'c': 'd', 'd': 'c', 'e': 'f', 'f': 'e', 'g': 'h', 'h': 'g'}
+        for blocks, name, weights in (
+            (
+                {'box': ('a', 'h', 'd'), 'cup': ('e', 'b'), 'hub': ('f',), 'rod': ('h', 'c', 'f')}, 'rod',
+                {'a': -1, 'b': 1, 'c': 0, 'd': 0, 'e': -1, 'f': 1, 'g': -1, 'h': 1},
+            ),
+            (
+                {
+                    'box': ('b', 'f'), 'cup': ('c', 'd', 'f', 'c'), 'fork': ('f', 'a', 'f', 'h'),
+                    'hub': ('g', 'd', 'e'), 'rod': ('d', 'c', 'a'),
+                }, 'hub', {'a': 0, 'b': 0, 'c': -1, 'd': 1, 'e': -1, 'f': 1, 'g': 1, 'h': -1},
+            ),
+        ):
+            sheet = Sheet(partners, blocks)
+            self.assertEqual(supply(sheet, name), Kept(weights))
+            self.assertTrue(Kept(weights).shows(sheet, name))
+
     def test_supply_shows(self):
         good = {'cap': 0, 'rod': 1, 'tee': 2, 'two': 2}
         self.assertTrue(Supply(good).shows(SHEET, 'rod'))
