@@ -30,7 +30,7 @@ def is_whole_piecing(sheet, amounts, links):
     return are_links(links, len(blocks)) and do_fit(sheet, blocks, links)
 
 
-def _places_by_kind(sheet, blocks):
+def places_by_kind(sheet, blocks):
     """A dict from all kinds to the ends of this kind, in ascending order."""
     places = {kind: [] for kind in sheet.kinds()}
     for copy, name in enumerate(blocks):
@@ -45,7 +45,7 @@ def joined(sheet, amounts):
     check_amounts(sheet, amounts)
     if not is_balanced(sheet, amounts):
         raise NotBalanced("these amounts have no whole piecing")
-    places = _places_by_kind(sheet, copies_of(sheet, amounts))
+    places = places_by_kind(sheet, copies_of(sheet, amounts))
     links = []
     for joint in sheet.joints():
         other = sheet.partner(joint)

@@ -4,70 +4,30 @@ from endsmeet.errors import BadText, TooLarge
 from endsmeet.given import check_sheet
 from endsmeet.links import facing_ends
 from endsmeet.pieces import MOST_COPIES, Piece, check_piece
+from endsmeet.scanning import Scanner
 from endsmeet.sheets import MOST_ENDS
-from endsmeet.words import is_letter
+from endsmeet.words import is_figure, is_letter, words_in
 
 MOST_MARKS = 99
 END_WORDS = ("0", "1", "2", "3")
 
 
-def _is_figure(sign):
-    """Whether a sign is a figure from 0 to 9."""
-    return "0" <= sign <= "9"
-
-
-def _words_of(told):
-    """The words of a text, and its signs that are no words, each with its column."""
-    words = []
-    start = 0
-    while start < len(told):
-        end = start + 1
-        if is_letter(told[start]):
-            while end < len(told) and is_letter(told[end]):
-                end += 1
-        elif _is_figure(told[start]):
-            while end < len(told) and _is_figure(told[end]):
-                end += 1
-        if told[start] != " ":
-            words.append((told[start:end], start + 1))
-        start = end
-    return words
-
-
 def _is_mark(word):
     """Whether a word is a number from 1 to 99 without zeros in front."""
-    return 1 <= len(word) <= 2 and all([_is_figure(sign) for sign in word]) and word[0] != "0"
+    return 1 <= len(word) <= 2 and all([is_figure(sign) for sign in word]) and word[0] != "0"
 
 
-class Reader:
-    """Reads the words of a text from left to right."""
+class Reader(Scanner):
+    """Reads the words of the text of a piece."""
 
     def __init__(self, sheet, words, behind):
+        Scanner.__init__(self, words, behind)
         self.sheet = sheet
-        self.words = words
-        self.behind = behind
-        self.at = 0
         self.blocks = []
         self.links = []
         self.named = {}
         self.marks = {}
         self.begun = []
-
-    def next_word(self):
-        """The next word, or an empty string behind the last one."""
-        return self.words[self.at][0] if self.at < len(self.words) else ""
-
-    def next_column(self):
-        """The column of the next word."""
-        return self.words[self.at][1] if self.at < len(self.words) else self.behind
-
-    def take(self, does_fit):
-        """Go on behind the next word, if it fits, and return it."""
-        if not does_fit:
-            raise BadText(1, self.next_column())
-        word = self.next_word()
-        self.at += 1
-        return word
 
     def read(self):
         """Read the whole text."""
@@ -86,7 +46,7 @@ class Reader:
                 self.begun.pop()
                 is_fresh = False
         if any([len(places) == 1 for places in self.marks.values()]):
-            raise BadText(1, self.behind)
+            raise BadText(self.behind[0], self.behind[1])
 
     def read_part(self):
         """Read a part up to a mark, or to the name of a copy; whether it was the latter."""
@@ -133,10 +93,10 @@ def read_piece(sheet, told):
     check_sheet(sheet)
     if not isinstance(told, str):
         raise BadText(0, 0)
-    words = _words_of(told)
-    if len([word for word, _ in words if is_letter(word[0])]) > MOST_COPIES:
+    words = [(word, 1, column) for word, column in words_in(told)]
+    if len([word for word, _, _ in words if is_letter(word[0])]) > MOST_COPIES:
         raise TooLarge("the text has more than 200 words with letters")
-    reader = Reader(sheet, words, len(told) + 1)
+    reader = Reader(sheet, words, (1, len(told) + 1))
     reader.read()
     return Piece(reader.blocks, sorted(reader.links))
 

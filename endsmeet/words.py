@@ -1,4 +1,4 @@
-"""What counts as an integer and as a word."""
+"""What counts as an integer and as a word, and the words of texts."""
 
 LONGEST_WORD = 8
 
@@ -23,3 +23,32 @@ def is_word(thing):
     if not isinstance(thing, str) or not 1 <= len(thing) <= LONGEST_WORD:
         return False
     return all([is_letter(sign) for sign in thing])
+
+
+def is_figure(sign):
+    """Whether a sign is a figure from 0 to 9."""
+    return "0" <= sign <= "9"
+
+
+def _end_of_run(told, start, does_belong):
+    """Where the signs end that belong together from a place on."""
+    end = start
+    while end < len(told) and does_belong(told[end]):
+        end += 1
+    return end
+
+
+def words_in(told):
+    """The runs of letters and of figures in a text, and its other signs but blanks, each with its column."""
+    words = []
+    start = 0
+    while start < len(told):
+        end = start + 1
+        if is_letter(told[start]):
+            end = _end_of_run(told, start, is_letter)
+        elif is_figure(told[start]):
+            end = _end_of_run(told, start, is_figure)
+        if told[start] != " ":
+            words.append((told[start:end], start + 1))
+        start = end
+    return words

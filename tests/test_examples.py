@@ -61,6 +61,18 @@ EXAMPLES = (
 >>> [isinstance(supply(sheet, 'two'), Kept), isinstance(supply(sheet, 'rod'), Kept), isinstance(in_tree(sheet, 'rod'), InTree), tops(sheet)]
 [True, False, False, {}]
 """,
+    r"""
+>>> from endsmeet.texts import read_sheet, write_sheet
+>>> sheet = read_sheet('kinds a ~ b, c\nblock star: a a c\nblock rod:a  b')
+>>> [write_sheet(sheet), sheet.kinds(), sheet.joints(), sheet.partner('b'), sheet.ends('star')]
+['kinds a ~ b, c\nblock rod: a b\nblock star: a a c\n', ['a', 'b', 'c'], ['a', 'c'], 'a', ('a', 'a', 'c')]
+""",
+    """
+>>> from endsmeet.sheets import Sheet
+>>> from endsmeet.treecounts import tree_numbers
+>>> tree_numbers(Sheet({'c': 'c'}, {'cap': ('c',), 'rod': ('c', 'c'), 'hub': ('c', 'c', 'c')}), 8)
+[0, 1, 1, 2, 2, 4, 6, 11]
+""",
 )
 
 

@@ -25,7 +25,7 @@ METHODS = set(
 DOUBLE = {'__init__', '__eq__', '__len__', '__iter__', '__contains__'}
 STATEMENTS = (
     ast.FunctionDef, ast.ClassDef, ast.Return, ast.Assign, ast.AugAssign, ast.For, ast.While, ast.If, ast.Raise,
-    ast.Expr, ast.Pass, ast.Break, ast.Continue, ast.ImportFrom, ast.Delete,
+    ast.Expr, ast.Pass, ast.Break, ast.Continue, ast.ImportFrom, ast.Delete, ast.Try,
 )
 WORDS = re.compile(
     r'\b(type|typing|enum|Enum|Flag|Generic|Protocol|ABC|namedtuple|NamedTuple|register|mro|elements|open|input|law)\b'
@@ -229,6 +229,25 @@ class Language(unittest.TestCase):
                         if isinstance(sign, (ast.Is, ast.IsNot)):
                             self.assertIsInstance(right, ast.Constant, at)
 
+    def test_tries_only_put_things_back(self):
+        for name, tree in trees():
+            for node in ast.walk(tree):
+                if isinstance(node, ast.Try):
+                    self.assertFalse(node.handlers or node.orelse, name)
+                    for row in node.finalbody:
+                        self.assertIsInstance(row, ast.Assign, name)
+                        self.assertIsInstance(row.value, (ast.Name, ast.Attribute), name)
+
+    def test_names_of_methods_are_not_those_of_attributes(self):
+        methods, attributes = set(), set()
+        for _, tree in trees():
+            for node in ast.walk(tree):
+                if isinstance(node, ast.FunctionDef) and isinstance(node.parent, ast.ClassDef):
+                    methods.add(node.name)
+                if isinstance(node, ast.Attribute) and isinstance(node.ctx, ast.Store):
+                    attributes.add(node.attr)
+        self.assertEqual(methods & attributes, set())
+
     def test_classes(self):
         for name, tree in trees():
             for node in ast.walk(tree):
@@ -315,14 +334,3 @@ class Language(unittest.TestCase):
                 if isinstance(node, ast.Constant) and isinstance(node.value, str):
                     if not isinstance(node.parent, ast.Expr):
                         self.assertIsNone(WORDS.search(node.value), (name, node.value))
-
-    def test_methods_and_attributes_have_unlike_names(self):
-        for name, tree in trees():
-            for node in ast.walk(tree):
-                if isinstance(node, ast.ClassDef):
-                    methods = {row.name for row in node.body if isinstance(row, ast.FunctionDef)}
-                    attributes = {
-                        part.attr for part in ast.walk(node)
-                        if isinstance(part, ast.Attribute) and isinstance(part.ctx, ast.Store)
-                    }
-                    self.assertEqual(methods & attributes, set(), (name, node.name))
