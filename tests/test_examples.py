@@ -73,6 +73,39 @@ EXAMPLES = (
 >>> tree_numbers(Sheet({'c': 'c'}, {'cap': ('c',), 'rod': ('c', 'c'), 'hub': ('c', 'c', 'c')}), 8)
 [0, 1, 1, 2, 2, 4, 6, 11]
 """,
+    """
+>>> from endsmeet.placing import closes, ring_form, turned, write_chain
+>>> from endsmeet.sheets import Sheet
+>>> sheet = Sheet({'a': 'b', 'b': 'a'}, {'x': ('b', 'a'), 'y': ('b', 'b'), 'z': ('a', 'a')})
+>>> chain = [('x', 0), ('x', 0), ('y', 0)]
+>>> [turned(sheet, chain), write_chain(sheet, turned(sheet, chain)), closes(sheet, chain)]
+[[('y', 0), ('x', 1), ('x', 1)], 'y ~x ~x', False]
+""",
+    """
+>>> from endsmeet.placing import ring_form
+>>> from endsmeet.sheets import Sheet
+>>> sheet = Sheet({'a': 'b', 'b': 'a'}, {'x': ('b', 'a'), 'y': ('b', 'b'), 'z': ('a', 'a')})
+>>> ring_form(sheet, [('x', 1), ('z', 0), ('y', 0)])
+[('x', 0), ('y', 0), ('z', 0)]
+""",
+    """
+>>> from endsmeet.reading import read_recipe
+>>> from endsmeet.recipes import write_recipe
+>>> from endsmeet.sheets import Sheet
+>>> sheet = Sheet({'a': 'b', 'b': 'a'}, {'x': ('b', 'a'), 'y': ('b', 'b'), 'z': ('a', 'a')})
+>>> recipe = read_recipe(sheet, 'z(y z){2..}|~(x*)')
+>>> [recipe[1][1], write_recipe(sheet, recipe)]
+[('turned', ('times', ('block', 'x', 0), 0, None)), 'z (y z){2..} | ~(x*)']
+""",
+    """
+>>> from endsmeet.misfits import misfit
+>>> from endsmeet.reading import read_recipe
+>>> from endsmeet.sheets import Sheet
+>>> sheet = Sheet({'a': 'b', 'b': 'a'}, {'x': ('b', 'a'), 'y': ('b', 'b'), 'z': ('a', 'a')})
+>>> found = misfit(sheet, read_recipe(sheet, 'x* y x'))
+>>> [found.pair, found.told, found.at]
+[(1, 2), [('y', 0), ('x', 0)], 0]
+""",
 )
 
 
