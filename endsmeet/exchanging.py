@@ -3,7 +3,7 @@
 from endsmeet.errors import BadLinks
 from endsmeet.given import check_amounts, check_sheet
 from endsmeet.joining import copies_of, is_whole_piecing
-from endsmeet.links import do_fit, facing_ends
+from endsmeet.links import are_links, do_fit, facing_ends
 
 
 def _check_exchanges(sheet, amounts, first, last):
@@ -35,18 +35,43 @@ def _least_number(first, last):
     return len(first) - rings
 
 
+def _changes(before, after):
+    """The links of a list that are not in another one, and those that come instead; None, if they are many."""
+    gone, new = [], []
+    at = 0
+    for link in before:
+        if at < len(after) and after[at] == link:
+            at += 1
+        elif link in after[at:]:
+            place = after.index(link, at)
+            new.extend(after[at:place])
+            at = place + 1
+        else:
+            gone.append(link)
+        if len(gone) > 2 or len(new) > 2:
+            return None
+    return gone, new + after[at:]
+
+
+def _places_of(links):
+    """The ascending list of the ends of some links."""
+    return sorted([place for link in links for place in link])
+
+
 def _is_exchange(sheet, blocks, before, after):
     """Whether a whole piecing becomes a list of links by an exchange."""
-    if not isinstance(after, list) or len(after) != len(before):
+    told = _changes(before, after) if isinstance(after, list) else None
+    if told is None:
         return False
-    kept, made = {link: True for link in after}, {link: True for link in before}
-    gone = [link for link in before if link not in kept]
-    new = [link for link in after if link not in made]
-    if len(gone) != 2 or len(new) != 2:
+    gone, new = told
+    if len(gone) != 2 or new == gone or not are_links(new, len(blocks)) or _places_of(new) != _places_of(gone):
         return False
-    if sorted([place for link in new for place in link]) != sorted([place for link in gone for place in link]):
-        return False
-    return all([link[0] < link[1] for link in new]) and do_fit(sheet, blocks, new) and after == sorted(after)
+    return do_fit(sheet, blocks, new) and after == _exchanged(before, gone, new)
+
+
+def _exchanged(links, gone, new):
+    """The links without some, and with others, in order."""
+    return sorted([link for link in links if link not in gone] + new)
 
 
 class Exchanges:
@@ -68,11 +93,6 @@ class Exchanges:
 
     def __eq__(self, other):
         return isinstance(other, Exchanges) and self.steps == other.steps
-
-
-def _exchanged(links, gone, new):
-    """The links without some, and with others, in order."""
-    return sorted([link for link in links if link not in gone] + new)
 
 
 def exchanges(sheet, amounts, first, last):

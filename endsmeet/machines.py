@@ -66,11 +66,9 @@ class Walks:
     def repeated(self, told, low, high):
         """A part for each time that a recipe is taken; those beyond the least number of times can be skipped."""
         parts = [self.spread(told) for _ in range(low + 1 if high is None else high)]
-        for part in parts[low:]:
-            part.is_skipped = True
         if high is None:
             self.lead(parts[-1].lasts, parts[-1].firsts)
-        return parts
+        return parts[:low] + [Part(part.firsts, part.lasts, True) for part in parts[low:]]
 
     def in_row(self, parts):
         """The part that is made of some, one behind the other."""

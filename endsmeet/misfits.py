@@ -1,8 +1,9 @@
 """Neighbours in the words of a recipe that do not fit."""
 
 from endsmeet.machines import Walks, shortest_walks
-from endsmeet.placing import fits
+from endsmeet.placing import fits, is_placed
 from endsmeet.recipes import check_recipe
+from endsmeet.words import is_int
 
 
 def _first_misfit(sheet, walks):
@@ -71,7 +72,9 @@ class Misfit:
         check_recipe(sheet, recipe)
         walks = Walks(sheet, recipe)
         pair = _first_misfit(sheet, walks)
-        if pair is None or self.pair != pair or not isinstance(self.told, list):
+        if pair is None or self.pair != pair or not is_int(self.at):
+            return False
+        if not isinstance(self.told, list) or not all([is_placed(sheet, placed) for placed in self.told]):
             return False
         spots, _ = _shortest_row(walks, pair)
         return len(self.told) == len(spots) and _has_row(walks, pair, self.told, self.at)

@@ -77,8 +77,8 @@ class Counts:
         for rests in self.rests.values():
             for kind, rest in rests:
                 more[kind] += self.choices[rest][-1]
-        for kind, top in self.tops.items():
-            top.append(more[kind])
+        for kind, many in more.items():
+            self.tops[kind].append(many)
 
     def closed_trees(self, many):
         """The number of closed trees of so many copies.

@@ -140,6 +140,7 @@ class Evidence(unittest.TestCase):
             ((1, 2), self.told[::-1], 0), ((2, 1), self.told, 0), ((3, 3), [('z', 0)] * 2, 0), ((0, 0), self.told, 0),
             ((-1, 2), self.told, 0), ((1, 10 ** 30), self.told, 0), ((1, 2), [('y', 0), ('x', 1)], 0),
             ((1, 2), [('y', 1), ('x', 0)], 0), ((1, 2), [('cap', 0), ('what', 5)], 0),
+            ((1, 2), self.told, False), ((1, 2), [('y', False), ('x', 0)], 0), ([1, 2], self.told, 0),
         ):
             self.assertIs(Misfit(pair, told, at).shows(SHEET, self.recipe), False, (pair, told, at))
         altered = misfit(SHEET, self.recipe)
