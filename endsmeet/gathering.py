@@ -1,13 +1,15 @@
 """Whole piecings in as few pieces as can be.
 
-A first whole piecing is grown greedily. Then two links are exchanged, as long as there is a joint with a link in a
-ring and with copies in two pieces: an exchange of this link and one in the other piece makes one piece of both.
+A first whole piecing is grown greedily. Let T be the joints with a link in a ring. If one of them has copies in two
+pieces, an exchange of that link and of one in the other piece makes one piece of both.
 
-If there is none, let T be the joints with a link in a ring. If all copies with an end at a joint of T were connected
-with one another, further links might be in rings; say one that parts the copies with ends at a joint of T. An
-exchange at this joint, of a link in a ring and of one on the other side, makes as many pieces, and puts that link in
-a ring. So its joint can be added to T. Once no joint can be added, all links at other joints are in no ring even so,
-and the pieces are as many as the parts by T less these links: no whole piecing has fewer.
+If none has, let all copies with an end at a joint of T be connected with one another: further links may be in rings
+then. Their joints are added to T, round by round. If one of them has copies in two pieces, an exchange of such a link
+and of one in the other piece makes as many pieces, and parts the copies of a joint of the round before: this one has
+copies in two pieces now. So after some exchanges, one for each round, there is a piece less.
+
+Once no joint can be added, the links at all other joints are in no ring even so, and the pieces are as many as the
+parts by T less these links: no whole piecing has fewer.
 """
 
 from endsmeet.ringed import Ringed
@@ -91,55 +93,39 @@ class Gathering:
             for joint in joints:
                 self.holders.setdefault(joint, []).append(copy)
 
-    def net(self, joints, without):
-        """The links, but for one perhaps, as edges, and for some joints a further node that all its copies reach."""
+    def net(self, joints):
+        """The links as edges, and for each of some joints a further node that all its copies are connected with."""
         edges = [(one[0], other[0]) for _, one, other in self.links]
-        if without is not None:
-            del edges[without]
         for at, joint in enumerate(joints):
             edges.extend([(copy, self.many + at) for copy in self.holders[joint]])
         return Ringed(self.many + len(joints), edges)
 
-    def is_across(self, joint, side):
-        """Whether some but not all copies with an end at a joint are on a side."""
-        inside = len([copy for copy in self.holders[joint] if side[copy]])
-        return 0 < inside < len(self.holders[joint])
-
     def improve(self):
         """Exchange two links towards fewer pieces: None, or the joints that show that there are as few as can be."""
         found = {}
-        first = self.net([], None)
-        net, rounds = first, 0
+        net = self.net([])
+        root = net.root
         while True:
             fresh = {}
             for at, (joint, _, _) in enumerate(self.links):
                 if net.is_ring[at] and joint not in found:
-                    fresh[joint] = (rounds, at)
+                    fresh[joint] = at
             if not fresh:
                 return sorted(found)
             found.update(fresh)
-            for joint in fresh:
-                piece = first.root[self.holders[joint][0]]
-                side = [root == piece for root in first.root]
-                if self.is_across(joint, side):
-                    self.lead(found, joint, side)
+            for joint, at in fresh.items():
+                other = self.link_elsewhere(joint, root, root[self.links[at][1][0]])
+                if other is not None:
+                    self.exchange(at, other)
                     return None
-            net, rounds = self.net(sorted(found), None), rounds + 1
+            net = self.net(sorted(found))
 
-    def lead(self, found, joint, side):
-        """Exchange two links, so that a joint with copies on either side of something comes nearer to link these."""
-        rounds, at = found[joint]
-        while rounds > 0:
-            net = self.net([], at)
-            piece = net.root[self.links[at][1][0]]
-            side = [root == piece for root in net.root]
-            joint = [near for near in found if found[near][0] < rounds and self.is_across(near, side)][0]
-            rounds, at = found[joint]
-        here = side[self.links[at][1][0]]
-        others = [
-            other for other, (near, one, _) in enumerate(self.links) if near == joint and side[one[0]] != here
-        ]
-        self.exchange(at, others[0])
+    def link_elsewhere(self, joint, root, piece):
+        """A link at a joint that is in another piece than a told one, or None."""
+        for at, (near, one, _) in enumerate(self.links):
+            if near == joint and root[one[0]] != piece:
+                return at
+        return None
 
     def exchange(self, at, other):
         """Exchange two links at one joint."""

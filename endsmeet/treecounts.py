@@ -41,16 +41,11 @@ class Counts:
         self.order = sorted(list(self.choices), key=len)
 
     def want(self, asked):
-        """Note that a list is wanted for some kinds, and what it is made of."""
-        if asked in self.choices:
-            return
-        self.choices[asked] = []
-        self.want(asked[1:])
-        same = asked.count(asked[0])
-        self.want(asked[:same])
-        self.want(asked[same:])
-        for at in range(len(asked)):
-            self.want(asked[:at] + asked[at + 1:])
+        """Note that lists are wanted for some kinds, and for each part of these."""
+        if asked not in self.choices:
+            self.choices[asked] = []
+            for at in range(len(asked)):
+                self.want(asked[:at] + asked[at + 1:])
 
     def next_choices(self, asked):
         """The next number of the list for some kinds; the numbers of the trees up to there are told."""

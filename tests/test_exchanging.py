@@ -126,6 +126,24 @@ class Evidence(unittest.TestCase):
         altered.steps = [one, two, three]
         self.assertIs(altered.shows(SHEET, self.amounts, self.first, self.last), True)
 
+    def test_wrong_ends_and_order(self):
+        first = [((0, 0), (1, 0)), ((2, 0), (3, 0)), ((4, 0), (5, 0)), ((6, 0), (7, 0))]
+        middle = [((0, 0), (1, 0)), ((2, 0), (4, 0)), ((3, 0), (5, 0)), ((6, 0), (7, 0))]
+        last = [((0, 0), (1, 0)), ((2, 0), (4, 0)), ((3, 0), (7, 0)), ((5, 0), (6, 0))]
+        other = [((0, 0), (1, 0)), ((2, 0), (4, 0)), ((3, 0), (6, 0)), ((5, 0), (7, 0))]
+        before = [((0, 0), (1, 0)), ((2, 0), (5, 0)), ((3, 0), (4, 0)), ((6, 0), (7, 0))]
+        amounts = {'cap': 8}
+        self.assertIs(Exchanges([first, middle, last]).shows(SHEET, amounts, first, last), True)
+        for steps in ([first, middle, other], [before, middle, last], [middle, middle, last], [first, middle, middle]):
+            self.assertIs(Exchanges(steps).shows(SHEET, amounts, first, last), False, steps)
+        for at in range(4):
+            for place in range(4):
+                mixed = middle[:at] + middle[at + 1:]
+                mixed.insert(place, middle[at])
+                self.assertIs(Exchanges([first, mixed, last]).shows(SHEET, amounts, first, last), at == place)
+        mixed = [middle[1], middle[0], middle[2], middle[3]]
+        self.assertIs(Exchanges([first, mixed, last]).shows(SHEET, amounts, first, last), False)
+
     def test_detours(self):
         sheet = Sheet({'c': 'c'}, {'cap': ('c',)})
         third = [((0, 0), (3, 0)), ((1, 0), (2, 0))]
