@@ -40,18 +40,20 @@ class Desk:
             raise BadLinks("an end does not exist, or is in a link, or both are the same")
         if self._sheet.partner(self._kind(one)) != self._kind(two):
             raise BadLinks("the kinds of the ends are not partners")
-        self._now.facing[one] = two
-        self._now.facing[two] = one
+        facing = self._now.facing
+        facing[one] = two
+        facing[two] = one
 
     def part(self, copy, end):
         """Take the link of an end away."""
         place = (copy, end)
-        if not self._is_end(place) or place not in self._now.facing:
+        facing = self._now.facing
+        if not self._is_end(place) or place not in facing:
             raise BadLinks("the end is in no link")
-        other = self._now.facing[place]
-        del self._now.facing[place]
+        other = facing[place]
+        del facing[place]
         # An end is never joined to itself, so the other one is still there.
-        del self._now.facing[other]
+        del facing[other]
 
     def all_links(self):
         """The ascending list of the links."""

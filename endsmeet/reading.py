@@ -52,19 +52,21 @@ class RecipeReader(Scanner):
         is_fresh = False
         while self.next_word() != "" or len(self.levels) > 1 or not self.levels[-1].last_row():
             word = self.next_word()
-            row = self.levels[-1].last_row()
+            level = self.levels[-1]
+            row = level.last_row()
             if is_fresh and (word in TIMES or word == "{"):
                 low, high = self.read_times()
                 row[-1] = ("times", row[-1], low, high)
                 is_fresh = False
             elif row and word == "|":
                 self.take(True)
-                self.levels[-1].rows.append([])
+                level.rows.append([])
                 is_fresh = False
             elif row and word == ")" and len(self.levels) > 1:
                 self.take(True)
-                level = self.levels.pop()
-                self.levels[-1].last_row().append(level.finished())
+                self.levels.pop()
+                row = self.levels[-1].last_row()
+                row.append(level.finished())
                 is_fresh = True
             else:
                 is_fresh = self.read_start(row)

@@ -40,6 +40,7 @@ class Exchanging(unittest.TestCase):
 
     def test_nothing_to_do(self):
         self.assertEqual(exchanges(SHEET, {'rod': 2}, OWN, OWN).steps, [OWN])
+        self.assertEqual(exchanges(SHEET, {'rod': 1}, OWN[:1], OWN[:1]).steps, [OWN[:1]])
         self.assertEqual(exchanges(SHEET, {}, [], []).steps, [[]])
         self.assertTrue(Exchanges([[]]).shows(SHEET, {}, [], []))
         self.assertFalse(Exchanges([]).shows(SHEET, {}, [], []))

@@ -66,6 +66,8 @@ class FewestPieces(unittest.TestCase):
         self.assertEqual(least_pieces(SHEET, amounts), 2)
         self.assertEqual(len(parts(8, found.links)), 2)
         self.assertEqual(least_pieces(SHEET, {'rod': 1}), 1)
+        self.assertEqual(fewest(SHEET, {'rod': 1}).links, [((0, 0), (0, 1))])
+        self.assertTrue(fewest(SHEET, {'rod': 1}).shows(SHEET, {'rod': 1}))
         self.assertEqual(least_pieces(SHEET, {'cup': 6, 'fork': 3}), 3)
         # A chain of the bows with a cap at either end, and two pieces of two caps.
         self.assertEqual(least_pieces(SHEET, {'cap': 6, 'arc': 3, 'rod': 0, 'fork': 0}), 3)
