@@ -1,12 +1,13 @@
 """Neighbours in the words of a recipe that do not fit."""
 
+from endsmeet.errors import Misfitting
 from endsmeet.machines import Walks, shortest_walks
 from endsmeet.placing import fits, is_placed
 from endsmeet.recipes import check_recipe
 from endsmeet.words import is_int
 
 
-def _first_misfit(sheet, walks):
+def first_misfit(sheet, walks):
     """The first pair of text places that are neighbours and do not fit, or None."""
     pairs = {}
     for spot, others in enumerate(walks.after):
@@ -71,7 +72,7 @@ class Misfit:
         """Whether pair, word and position are as described for a recipe."""
         check_recipe(sheet, recipe)
         walks = Walks(sheet, recipe)
-        pair = _first_misfit(sheet, walks)
+        pair = first_misfit(sheet, walks)
         if pair is None or self.pair != pair or not is_int(self.at):
             return False
         if not isinstance(self.told, list) or not all([is_placed(sheet, placed) for placed in self.told]):
@@ -92,8 +93,17 @@ def misfit(sheet, recipe):
     """A Misfit of a recipe, or None if all neighbours fit."""
     check_recipe(sheet, recipe)
     walks = Walks(sheet, recipe)
-    pair = _first_misfit(sheet, walks)
+    pair = first_misfit(sheet, walks)
     if pair is None:
         return None
     spots, at = _shortest_row(walks, pair)
     return Misfit(pair, [walks.placed[walks.places[spot]] for spot in spots], at)
+
+
+def fitting_walks(sheet, recipe):
+    """The walks of a recipe; BadSheet, BadRecipe or Misfitting, if it is none of a sheet, or has misfits."""
+    check_recipe(sheet, recipe)
+    walks = Walks(sheet, recipe)
+    if first_misfit(sheet, walks) is not None:
+        raise Misfitting("the recipe has neighbours that do not fit")
+    return walks

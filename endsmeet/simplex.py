@@ -74,7 +74,7 @@ class Tableau:
         here, there = self.rows[at], self.rows[best]
         return here.get(key, 0) * there[column] - there.get(key, 0) * here[column]
 
-    def step(self, column):
+    def bring_in(self, column):
         """Let a column take the place of another one."""
         at = self.leaving(column)
         pivot = self.rows[at]
@@ -89,7 +89,7 @@ class Tableau:
         """Step until no column lessens the goal."""
         column = self.entering()
         while column is not None:
-            self.step(column)
+            self.bring_in(column)
             column = self.entering()
 
     def times(self):

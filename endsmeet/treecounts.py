@@ -64,7 +64,7 @@ class Counts:
             total += sum([top[at] * fewer[many - times * at] for at in range(1, many // times + 1)])
         return total // same
 
-    def step(self):
+    def grow_once(self):
         """Tell trees of one copy more."""
         for asked in self.order:
             self.choices[asked].append(self.next_choices(asked))
@@ -102,6 +102,6 @@ def tree_numbers(sheet, most):
     counts = Counts(sheet)
     numbers = []
     for many in range(1, most + 1):
-        counts.step()
+        counts.grow_once()
         numbers.append(counts.closed_trees(many))
     return numbers

@@ -106,6 +106,120 @@ EXAMPLES = (
 >>> [found.pair, found.told, found.at]
 [(1, 2), [('y', 0), ('x', 0)], 0]
 """,
+    """
+>>> from endsmeet.families import family
+>>> from endsmeet.reading import read_recipe
+>>> from endsmeet.sheets import Sheet
+>>> sheet = Sheet({'a': 'b', 'b': 'a'}, {'x': ('b', 'a'), 'y': ('b', 'b'), 'z': ('a', 'a')})
+>>> one, other = family(sheet, read_recipe(sheet, 'z y | x+')), family(sheet, read_recipe(sheet, 'y z | ~x (~x)*'))
+>>> [one == other, one.parting(family(sheet, read_recipe(sheet, 'x+'))), one.chains(2), one.is_endless()]
+[True, [('y', 0), ('z', 0)], [[('x', 0), ('x', 0)], [('y', 0), ('z', 0)]], True]
+""",
+    """
+>>> from endsmeet.once import told_twice
+>>> from endsmeet.reading import read_recipe
+>>> from endsmeet.sheets import Sheet
+>>> sheet = Sheet({'a': 'b', 'b': 'a'}, {'x': ('b', 'a'), 'y': ('b', 'b'), 'z': ('a', 'a')})
+>>> found = told_twice(sheet, read_recipe(sheet, 'z y | y z'))
+>>> sorted([found.one_row, found.other_row])
+[[0, 1], [2, 3]]
+""",
+    """
+>>> from endsmeet.families import family
+>>> from endsmeet.numbers import count_chains, first_unlike
+>>> from endsmeet.reading import read_recipe
+>>> from endsmeet.sheets import Sheet
+>>> sheet = Sheet({'k': 'k'}, {'p': ('k', 'k'), 'r': ('k', 'k')})
+>>> both = family(sheet, read_recipe(sheet, '(p | r)+'))
+>>> [count_chains(both, 3), first_unlike(both, family(sheet, read_recipe(sheet, '(p | r) (p | r)*')))]
+[6, None]
+""",
+    """
+>>> from endsmeet.families import family
+>>> from endsmeet.reading import read_recipe
+>>> from endsmeet.rings import count_rings, rings_of
+>>> from endsmeet.sheets import Sheet
+>>> sheet = Sheet({'k': 'k'}, {'p': ('k', 'k'), 'r': ('k', 'k')})
+>>> rings = rings_of(family(sheet, read_recipe(sheet, '(p | r)+')))
+>>> [count_rings(rings, 4), rings.first()]
+[6, [('p', 0)]]
+""",
+    """
+>>> from endsmeet.families import family
+>>> from endsmeet.reading import read_recipe
+>>> from endsmeet.sheets import Sheet
+>>> from endsmeet.weights import spectrum
+>>> sheet = Sheet({'k': 'k'}, {'p': ('k', 'k'), 'r': ('k', 'k')})
+>>> found = spectrum(family(sheet, read_recipe(sheet, 'p* (p | r) r*')), {'p': 5, 'r': 3})
+>>> [found.threshold, found.period, found.below, found.rests, found.last_lacking()]
+[8, 1, [3, 5, 6], [0], 7]
+""",
+    """
+>>> from endsmeet.families import family
+>>> from endsmeet.reading import read_recipe
+>>> from endsmeet.runs import longest_run
+>>> from endsmeet.sheets import Sheet
+>>> sheet = Sheet({'k': 'k'}, {'p': ('k', 'k'), 'r': ('k', 'k')})
+>>> longest_run(family(sheet, read_recipe(sheet, 'p{2} r p{3}')), ('p',)).most
+3
+""",
+    """
+>>> from endsmeet.cutting import cut_chain
+>>> from endsmeet.sheets import Sheet
+>>> sheet = Sheet({'a': 'b', 'b': 'a'}, {'x': ('b', 'a'), 'y': ('b', 'b'), 'z': ('a', 'a')})
+>>> cut_chain(sheet, ('a',), [('z', 0), ('y', 0)])
+[([('z', 0)], False, True), ([('y', 0)], True, False)]
+""",
+    """
+>>> from endsmeet.families import family
+>>> from endsmeet.joins import gives_nothing_new, parted
+>>> from endsmeet.reading import read_recipe
+>>> from endsmeet.sheets import Sheet
+>>> sheet = Sheet({'a': 'b', 'b': 'a'}, {'x': ('b', 'a'), 'y': ('b', 'b'), 'z': ('a', 'a')})
+>>> some = [family(sheet, read_recipe(sheet, 'z y'))]
+>>> [parted(some, [('z', 0), ('y', 0), ('z', 0), ('y', 0)]), gives_nothing_new(some)]
+[[[('z', 0), ('y', 0)], [('z', 0), ('y', 0)]], False]
+""",
+    """
+>>> from endsmeet.families import family
+>>> from endsmeet.reading import read_recipe
+>>> from endsmeet.sheets import Sheet
+>>> from endsmeet.windows import known_from, pieces
+>>> sheet = Sheet({'k': 'k'}, {'p': ('k', 'k'), 'r': ('k', 'k')})
+>>> one = family(sheet, read_recipe(sheet, 'p{2}'))
+>>> [known_from(one).signs, pieces(one, 2)]
+[3, [[('', 0), ('p', 0)], [('p', 0), ('', 1)], [('p', 0), ('p', 0)]]]
+""",
+    """
+>>> from endsmeet.families import family
+>>> from endsmeet.reading import read_recipe
+>>> from endsmeet.sheets import Sheet
+>>> from endsmeet.stocks import least_amounts
+>>> sheet = Sheet({'k': 'k'}, {'p': ('k', 'k'), 'r': ('k', 'k')})
+>>> least_amounts(family(sheet, read_recipe(sheet, 'p p r* | r{3}')))
+[{'p': 0, 'r': 3}, {'p': 2, 'r': 0}]
+""",
+    """
+>>> from endsmeet.families import family
+>>> from endsmeet.gaps import gaps
+>>> from endsmeet.reading import read_recipe
+>>> from endsmeet.sheets import Sheet
+>>> sheet = Sheet({'k': 'k'}, {'p': ('k', 'k'), 'r': ('k', 'k')})
+>>> found = gaps(family(sheet, read_recipe(sheet, 'p r* p | p r')), ('p',), ('p',))
+>>> [found.least, found.greatest]
+[0, None]
+""",
+    """
+>>> from endsmeet.families import family
+>>> from endsmeet.prices import cheapest, tariff
+>>> from endsmeet.reading import read_recipe
+>>> from endsmeet.sheets import Sheet
+>>> sheet = Sheet({'k': 'k'}, {'p': ('k', 'k'), 'r': ('k', 'k')})
+>>> one, weights, prices = family(sheet, read_recipe(sheet, '(p | r)+')), {'p': 2, 'r': 3}, {'p': 1, 'r': 1}
+>>> found = tariff(one, weights, prices)
+>>> [found.threshold, found.below, found.again, found.step, found.least_at(1000), cheapest(one, weights, prices, 6).chain]
+[2, [None, None], [1, 1, 2], 1, 334, [('r', 0), ('r', 0)]]
+""",
 )
 
 

@@ -1,6 +1,7 @@
 """Each name of the interface is defined in the file under which it is listed, with the arguments that are told."""
 
 import ast
+import importlib
 import os
 import unittest
 
@@ -43,6 +44,18 @@ FUNCTIONS = {
     'spelling': (),
     'machines': (),
     'misfits': ('misfit(sheet, recipe)',),
+    'families': ('family(sheet, recipe)',),
+    'once': ('told_twice(sheet, recipe)',),
+    'numbers': ('count_chains(family, many)', 'first_unlike(one, other)'),
+    'rings': ('rings_of(family)', 'count_rings(rings, many)'),
+    'weights': ('spectrum(family, weights)', 'chain_of_total(family, weights, total)'),
+    'runs': ('longest_run(family, names)',),
+    'cutting': ('fragments(family, joints)', 'cut_chain(sheet, joints, chain)'),
+    'joins': ('joined(families)', 'parted(families, chain)', 'gives_nothing_new(families)'),
+    'windows': ('pieces(family, many)', 'known_from(family)'),
+    'stocks': ('least_amounts(family)', 'chain_of_amounts(family, amounts)'),
+    'gaps': ('gaps(family, names, others)',),
+    'prices': ('tariff(family, weights, prices)', 'cheapest(family, weights, prices, total)'),
 }
 METHODS = {
     'sheets': {'Sheet': (
@@ -76,6 +89,50 @@ METHODS = {
         '__init__(self, piece, price, bounds, paths)', 'shows(self, sheet, kind, other, prices)', '__eq__(self, other)',
     )},
     'misfits': {'Misfit': ('__init__(self, pair, told, at)', 'shows(self, sheet, recipe)', '__eq__(self, other)')},
+    'families': {'Family': (
+        '__eq__(self, other)', '__bool__(self)', 'table(self)', 'has(self, chain)', 'first(self)', 'is_endless(self)',
+        'chains(self, many)', 'both(self, other)', 'either(self, other)', 'without(self, other)', 'within(self, other)',
+        'parting(self, other)',
+    )},
+    'once': {'Twice': ('__init__(self, one_row, other_row)', 'shows(self, sheet, recipe)', '__eq__(self, other)')},
+    'rings': {'Rings': (
+        '__eq__(self, other)', '__bool__(self)', 'table(self)', 'has(self, chain)', 'first(self)', 'is_endless(self)',
+        'within(self, other)', 'parting(self, other)',
+    )},
+    'weights': {'Spectrum': (
+        '__init__(self, threshold, period, below, rests)', 'has(self, total)', 'is_endless(self)', 'last_lacking(self)',
+        '__eq__(self, other)',
+    )},
+    'runs': {
+        'Longest': ('__init__(self, most, chain)', 'shows(self, family, names)', '__eq__(self, other)'),
+        'Unending': ('__init__(self, front, loop, back)', 'shows(self, family, names)', '__eq__(self, other)'),
+    },
+    'cutting': {'Fragments': (
+        '__eq__(self, other)', '__bool__(self)', 'table(self)', 'has(self, chain, is_left_cut, is_right_cut)',
+        'first(self)', 'is_endless(self)', 'within(self, other)', 'parting(self, other)',
+    )},
+    'windows': {
+        'Known': ('__init__(self, signs, other)', 'shows(self, family)', '__eq__(self, other)'),
+        'Unknown': ('__init__(self, front, loop, back)', 'shows(self, family)', '__eq__(self, other)'),
+    },
+    'gaps': {'Gaps': ('__init__(self, least, greatest)', '__eq__(self, other)')},
+    'prices': {
+        'Tariff': ('__init__(self, threshold, below, again, step)', 'least_at(self, total)', '__eq__(self, other)'),
+        'Cheapest': (
+            '__init__(self, chain, cost, worths)', 'shows(self, family, weights, prices, total)', '__eq__(self, other)',
+        ),
+    },
+}
+# With what objects are made, by the names of their attributes; all of these are set when an object is created.
+ATTRIBUTES = {
+    'Piece': {'blocks': ['rod'], 'links': []}, 'Same': {'copies': [0], 'turned': [(0, 1)]},
+    'Fewest': {'links': [], 'across': []}, 'Most': {'parts': []}, 'Supply': {'amounts': {}}, 'Kept': {'weights': {}},
+    'NotInTree': {'never': []}, 'Exchanges': {'steps': []}, 'Misfit': {'pair': (0, 1), 'told': [], 'at': 0},
+    'Twice': {'one_row': [], 'other_row': []}, 'Spectrum': {'threshold': 0, 'period': 1, 'below': [], 'rests': []},
+    'Longest': {'most': 0, 'chain': None}, 'Unending': {'front': [], 'loop': [], 'back': []},
+    'Known': {'signs': 2, 'other': None}, 'Unknown': {'front': [], 'loop': [], 'back': []},
+    'Gaps': {'least': 0, 'greatest': None}, 'Tariff': {'threshold': 0, 'below': [], 'again': [None], 'step': 0},
+    'Cheapest': {'chain': [], 'cost': 0, 'worths': []}, 'Finish': {'trees': [], 'price': 0, 'bounds': {}},
 }
 
 
@@ -84,6 +141,22 @@ def told(function):
 
 
 class Interface(unittest.TestCase):
+    def test_attributes(self):
+        for module, classes in METHODS.items():
+            for name in classes:
+                if name in ATTRIBUTES:
+                    made = getattr(importlib.import_module(f'endsmeet.{module}'), name)
+                    for found in (made(**ATTRIBUTES[name]), made(*ATTRIBUTES[name].values())):
+                        for attribute, value in ATTRIBUTES[name].items():
+                            told_value = getattr(found, attribute)
+                            self.assertEqual(list(told_value) if isinstance(told_value, tuple) else told_value,
+                                             list(value) if isinstance(value, tuple) else value, (name, attribute))
+
+    def test_every_module_of_the_interface(self):
+        for module in FUNCTIONS:
+            importlib.import_module(f'endsmeet.{module}')
+        self.assertEqual(len(FUNCTIONS), 35)
+
     def test_names_and_arguments(self):
         for module, functions in FUNCTIONS.items():
             path = os.path.join(os.path.dirname(endsmeet.__file__), module + '.py')

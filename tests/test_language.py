@@ -22,7 +22,7 @@ METHODS = set(
     'items join keys ljust lower lstrip partition pop remove replace reverse rfind rjust rpartition rsplit rstrip '
     'setdefault split splitlines startswith strip update upper values zfill bit_length'.split()
 )
-DOUBLE = {'__init__', '__eq__', '__len__', '__iter__', '__contains__'}
+DOUBLE = {'__init__', '__bool__', '__eq__', '__len__', '__iter__', '__contains__'}
 STATEMENTS = (
     ast.FunctionDef, ast.ClassDef, ast.Return, ast.Assign, ast.AugAssign, ast.For, ast.While, ast.If, ast.Raise,
     ast.Expr, ast.Pass, ast.Break, ast.Continue, ast.ImportFrom, ast.Delete, ast.Try,
