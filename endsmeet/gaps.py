@@ -2,6 +2,7 @@
 
 from endsmeet.linear import check_linear_names
 from endsmeet.longest import longest_ways
+from endsmeet.machines import shortest_walks
 
 
 class Gaps:
@@ -20,21 +21,6 @@ def _behind(machine, names):
     return sorted(set([
         other for row in machine.arrows for sign, other in row.items() if sign[0] in names
     ]))
-
-
-def _reached(near, starts):
-    """For each state that is reached from some, in the order of their distances, the distance."""
-    found = {state: 0 for state in starts}
-    waiting = list(starts)
-    at = 0
-    while at < len(waiting):
-        state = waiting[at]
-        for other in near[state]:
-            if other not in found:
-                found[other] = found[state] + 1
-                waiting.append(other)
-        at += 1
-    return found
 
 
 def _opposite(near):
@@ -71,10 +57,12 @@ def gaps(family, names, others):
         [other for sign, other in row.items() if sign[0] not in names and sign[0] not in others]
         for row in machine.arrows
     ]
-    from_starts, from_targets = _reached(near, starts), _reached(_opposite(near), targets)
-    kept = {state: True for state in from_starts if state in from_targets}
+    ahead, _ = shortest_walks(starts, near)
+    behind, _ = shortest_walks(targets, _opposite(near))
+    kept = {state: True for state in ahead if state in behind}
     begun = [state for state in starts if state in kept]
     if not begun:
         return None
-    least = min([from_targets[state] for state in begun])
+    # A walk counts its states, one more than the blocks between them.
+    least = min([behind[state] for state in begun]) - 1
     return Gaps(least, _greatest(near, kept, begun))

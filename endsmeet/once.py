@@ -3,6 +3,7 @@
 from endsmeet.doubles import Doubles, first_pair, mask_of, only, together, within, without
 from endsmeet.misfits import fitting_walks
 from endsmeet.placing import turned_block, turned_row
+from endsmeet.words import is_int
 
 
 def _way_back(doubles, layers, pair):
@@ -135,6 +136,8 @@ def _unlike_rows(walks):
 
 def _is_row(walks, row):
     """Whether a list of numbers is a row of a word that is not empty."""
+    if not all([is_int(place) for place in row]):
+        return False
     now = {spot: True for spot in walks.firsts}
     reached = []
     for place in row:

@@ -185,11 +185,12 @@ class Ways:
         row = []
         state, rest = 0, total
         while rest > 0:
-            choices = self.ways_on(worths, rest, state)
-            sign = [sign for price, sign in choices if price == worths[rest][state]][0]
-            row.append(sign)
-            state = self.machine.arrows[state][sign]
-            rest -= self.weights[sign[0]]
+            ways = self.ways_on(worths, rest, state)
+            cheapest_signs = [sign for price, sign in ways if price == worths[rest][state]]
+            placed = cheapest_signs[0]
+            row.append(placed)
+            state = self.machine.arrows[state][placed]
+            rest -= self.weights[placed[0]]
         return row
 
     def are_values(self, worths, total):

@@ -51,51 +51,37 @@ class Table:
         ]
         return arrows, [state for state, is_end in enumerate(self.finals) if is_end]
 
-    def rows_to(self):
-        """For each state the first row of signs that leads to it."""
-        found = [None for _ in self.arrows]
-        found[0] = []
-        waiting = [0]
+    def walked_from(self, start):
+        """All states that are reached from one, in the order of the first rows to them, each with the state before
+        it and the sign between them; the first one has None."""
+        previous = {start: None}
+        waiting = [start]
         at = 0
         while at < len(waiting):
             state = waiting[at]
             for sign in sorted(self.arrows[state]):
                 other = self.arrows[state][sign]
-                if found[other] is None:
-                    found[other] = found[state] + [sign]
+                if other not in previous:
+                    previous[other] = (state, sign)
                     waiting.append(other)
             at += 1
-        return found
+        return previous
+
+    def rows_to(self):
+        """For each state the first row of signs that leads to it."""
+        found = {}
+        for state, step in self.walked_from(0).items():
+            found[state] = [] if step is None else found[step[0]] + [step[1]]
+        return [found[state] for state in range(len(self.arrows))]
 
     def row_to(self, wanted):
         """The first row of signs that leads to a state."""
-        previous = {0: None}
-        waiting = [0]
-        at = 0
-        while wanted not in previous:
-            state = waiting[at]
-            for sign in sorted(self.arrows[state]):
-                other = self.arrows[state][sign]
-                if other not in previous:
-                    previous[other] = (state, sign)
-                    waiting.append(other)
-            at += 1
-        return trail(previous, wanted)
+        return trail(self.walked_from(0), wanted)
 
     def row_on(self, start):
-        """The first row of signs that leads from a state to an end, which it is let have."""
-        previous = {start: None}
-        waiting = [start]
-        at = 0
-        while not self.finals[waiting[at]]:
-            state = waiting[at]
-            for sign in sorted(self.arrows[state]):
-                other = self.arrows[state][sign]
-                if other not in previous:
-                    previous[other] = (state, sign)
-                    waiting.append(other)
-            at += 1
-        return trail(previous, waiting[at])
+        """The first row of signs that leads from a state to an end; there must be one."""
+        previous = self.walked_from(start)
+        return trail(previous, [state for state in previous if self.finals[state]][0])
 
     def first_row(self):
         """The first row of signs that leads to an end, or None."""

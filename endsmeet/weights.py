@@ -137,11 +137,11 @@ def chain_of_total(family, weights, total):
     into = machine.into()
     row = []
     while total > 0:
-        before, sign = [
+        steps = [
             (other, sign) for other, sign in into[state]
             if weights[sign[0]] <= total and totals.states[total - weights[sign[0]]] >> other & 1
-        ][0]
-        row.append(sign)
-        total -= weights[sign[0]]
-        state = before
+        ]
+        state, last = steps[0]
+        row.append(last)
+        total -= weights[last[0]]
     return row[::-1]

@@ -17,7 +17,7 @@ RIGHT_MARK = ("", 1)
 def _marked(machine):
     """The arrows of a machine for marked chains: one state more ahead of the start, and one behind the ends."""
     many = len(machine.arrows)
-    arrows = [dict(row) for row in machine.arrows]
+    arrows = [{sign: row[sign] for sign in row} for row in machine.arrows]
     for state, is_end in enumerate(machine.finals):
         if is_end:
             arrows[state][RIGHT_MARK] = many + 1

@@ -79,6 +79,12 @@ class ToldTwice(unittest.TestCase):
         self.assertEqual(len(self.ask('(p{9})+ | (p{10})+')[0]), 90)
         self.assertEqual(len(self.ask('(p{13})+ r | r (p{16})+')[0]), 13 * 16 + 1)
         self.assertEqual(self.ask('(p{2})+ | (p{2})* p'), None)
+        # One row with six blocks behind the r, and one with six in front of it.
+        self.assertEqual(self.ask('(p p)* r (p p p)*'), [[0, 1] * 3 + [2], [2] + [3, 4, 5] * 2])
+        # Of 9, 21, 33 .. blocks on either side the words with as many on both are their own turnings.
+        self.assertEqual(len(self.ask('(p{4})* p r (p{3})*')[0]), 9 + 1 + 21)
+        self.assertEqual(len(self.ask('((p{20}){2})* r | r ((p{7}){7})*')[0]), 1)
+        self.assertEqual(len(self.ask('((p{20}){2})+ r | r ((p{7}){7})+')[0]), 1961)
         self.assertEqual(len(self.ask('(p | r){20} p{2} r')[0]), 23)
 
     def test_held_against_plain_listing(self):
