@@ -1,5 +1,7 @@
 """States of nets that do whatever others do."""
 
+from endsmeet.machines import shortest_walks
+
 
 def bits_of(mask):
     """The ascending list of the numbers whose bits are set."""
@@ -39,11 +41,19 @@ def _first_guess(net):
     return found
 
 
+def _ends_last(net, sources):
+    """The list of all states, those last from which few arrows lead to an end."""
+    near = [[source for mask in row.values() for source in bits_of(mask)] for row in sources]
+    lengths, _ = shortest_walks([state for state, is_end in enumerate(net.finals) if is_end], near)
+    return [state for state in range(len(near)) if state not in lengths] + list(lengths)[::-1]
+
+
 def _doing_as_much(net):
     """For each state the bits of those that can do step by step what it does."""
     sources = _sources(net)
     found = _first_guess(net)
-    waiting = list(range(len(found)))
+    # What is known of a state hangs on those that come next to it, so that those near the ends come first.
+    waiting = _ends_last(net, sources)
     is_waiting = [True for _ in found]
     while waiting:
         state = waiting.pop()

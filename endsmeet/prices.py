@@ -60,10 +60,16 @@ class Prices:
         self.least.append(min([price for state, price in told.items() if self.machine.finals[state]], default=None))
         for state, price in told.items():
             for weight, cost, other in self.steps[state]:
-                near = self.coming.setdefault(total + weight, {})
-                if other not in near or near[other] > price + cost:
-                    near[other] = price + cost
+                self.come(total + weight, other, price + cost)
         return told
+
+    def come(self, total, state, price):
+        """Let words with a total lead to a state at a price."""
+        if total not in self.coming:
+            self.coming[total] = {}
+        known = self.coming[total]
+        if state not in known or known[state] > price:
+            known[state] = price
 
 
 class Rises:

@@ -31,7 +31,8 @@ def _longer(arrows, rows):
         near = {}
         for state in states:
             for sign, other in arrows[state].items():
-                near.setdefault(sign, {})[other] = True
+                others = near.setdefault(sign, {})
+                others[other] = True
         found.extend([(row + [sign], list(near[sign])) for sign in near])
     return found
 
