@@ -66,7 +66,7 @@ class Deeds:
         for state, image in told:
             for sign, other in self.machine.arrows[image].items():
                 found.setdefault(sign, []).append((state, other))
-        return {sign: tuple(told) for sign, told in found.items()}
+        return {sign: tuple(pairs) for sign, pairs in found.items()}
 
     def with_ahead(self, sign):
         """For each deed that of its rows with a sign in front of them, or None."""

@@ -1,5 +1,7 @@
 """The rings of families of chains."""
 
+from math import gcd
+
 from endsmeet.circles import circled
 from endsmeet.errors import BadChain, BadNumber, TooLarge
 from endsmeet.families import check_alike
@@ -65,13 +67,6 @@ def rings_of(family):
     return Rings(family.sheet, circled(family.sheet, family.machine))
 
 
-def _common_divisor(one, other):
-    """The greatest number that divides both."""
-    while other:
-        one, other = other, one % other
-    return one
-
-
 def _all_counts(machine, many):
     """For each number of blocks up to one, a dict from states to the numbers of rows that lead to them."""
     counts = [{0: 1}]
@@ -101,7 +96,7 @@ class Turns:
 
     def moved(self, step):
         """The number of lists that are the same when so many blocks of their front are moved to their end."""
-        long = _common_divisor(self.many, step)
+        long = gcd(self.many, step)
         total = 0
         for state, number in self.counts[long].items():
             if self.is_end(self.machine.state_after(self.rows[state] * (self.many // long))):
