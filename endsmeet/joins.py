@@ -41,7 +41,7 @@ class Joining:
     def number(self, state, kind):
         """The number of a state of the net, which is added if it is new."""
         if (state, kind) not in self.numbers:
-            self.numbers[(state, kind)] = self.drawn.new_state(kind is not None and self.machine.finals[state])
+            self.numbers[(state, kind)] = self.drawn.new_state(self.machine.finals[state])
             self.waiting.append((state, kind))
         return self.numbers[(state, kind)]
 

@@ -63,6 +63,9 @@ class Fragmenting(unittest.TestCase):
         self.assertNotEqual(one, fragments(fam('p{1..2}'), ('k',)))
         self.assertNotEqual(one, fragments(fam('p+'), ()))
         self.assertEqual(fragments(fam('p'), ()), fragments(fam('p'), ('k',)))
+        # The same arrows with other ends, and the same ends with other arrows.
+        self.assertNotEqual(fragments(fam('p p'), ()), fragments(fam('p | p p'), ()))
+        self.assertNotEqual(fragments(fam('p'), ()), fragments(fam('r'), ()))
         self.assertNotEqual(one, fam('p'))
         self.assertNotEqual(one, None)
         self.assertEqual([one.within(fragments(fam('p{1..2}'), ('k',))), fragments(fam('p'), ()).within(one)], [False, True])

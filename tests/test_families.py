@@ -143,6 +143,8 @@ class Taken(unittest.TestCase):
         for other in (None, 'p', [], fam('p').table()):
             self.assertNotEqual(fam('p'), other)
         self.assertNotEqual(fam('x', SHEET), fam('x', MIXED))
+        # The same arrows with other ends, and the same ends with other arrows.
+        self.assertNotEqual(fam('p p'), fam('p | p p'))
         self.assertNotEqual(fam('p'), fam('r'))
 
     def test_sets(self):

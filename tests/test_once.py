@@ -67,6 +67,24 @@ class ToldTwice(unittest.TestCase):
         self.assertEqual(self.ask('(p p)* (r r r) | p{4}'), None)
         self.assertEqual(self.ask('p{20} p p | (p{11})+')[0], [0] * 20 + [1, 2])
 
+    def test_shortest_of_several(self):
+        # Words told twice, and pairs of words that are told once each, but turn into one another.
+        for same in range(1, 8):
+            for apart in range(2, 8):
+                for at in range(apart // 2):
+                    word = ['p'] * at + ['r'] + ['p'] * (apart - 1 - at)
+                    pair = ' '.join(word) + ' | ' + ' '.join(word[::-1])
+                    found = self.ask('p{%d} | p{%d} | %s' % (same, same, pair))
+                    self.assertEqual(len(found[0]), min(same, apart))
+        for one in range(2, 8):
+            for other in range(2, 8):
+                for at in range(one // 2):
+                    for there in range(other // 2):
+                        first = ['p'] * at + ['r'] + ['p'] * (one - 1 - at)
+                        second = ['r'] * there + ['p'] + ['r'] * (other - 1 - there)
+                        told = [' '.join(word) for word in (first, first[::-1], second, second[::-1])]
+                        self.assertEqual(len(self.ask(' | '.join(told))[0]), min(one, other))
+
     def test_far_from_the_ends(self):
         # The words differ from their turnings in their middles alone.
         self.assertEqual(self.ask('(p{20}){2} r p (p{20}){2} | (p{20}){2} p r (p{20}){2}'), [

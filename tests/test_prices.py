@@ -2,6 +2,7 @@ import unittest
 
 from endsmeet.errors import BadNumber, BadPrices, BadWeights, TooLarge
 from endsmeet.prices import Cheapest, Tariff, cheapest, tariff
+from endsmeet.sheets import Sheet
 from tests.family_support import BAD_FOR_INT, MIXED, PR, fam, random_families, row
 from tests.support import seeded
 from tests.test_weights import BAD_WEIGHTS, states_by_total
@@ -64,6 +65,14 @@ class Tariffs(unittest.TestCase):
         self.assertEqual(told(tariff(ONE, {'p': 1, 'r': 1}, {'p': great, 'r': great + 1})), [1, [None], [great], great])
         self.assertEqual(told(tariff(fam('p+'), {'p': 3, 'r': 1}, {'p': 4, 'r': 0})), [1, [None], [None, None, 4], 4])
         self.assertEqual(told(tariff(fam('(p p)* p'), {'p': 1, 'r': 1}, {'p': 4, 'r': 0})), [0, [], [None, 4], 8])
+
+    def test_least_periods(self):
+        # The states repeat themselves with longer periods than the prices do.
+        sheet = Sheet({'k': 'k'}, {'p': ('k', 'k'), 'q': ('k', 'k'), 'r': ('k', 'k')})
+        ones = {'p': 1, 'q': 1, 'r': 1}
+        whole = fam('(p q r)* (p | p q | p q r)', sheet)
+        self.assertEqual(told(tariff(whole, ones, ones)), [1, [None], [1], 1])
+        self.assertEqual(told(tariff(whole, ones, {'p': 1, 'q': 0, 'r': 2})), [1, [None], [1, 1, 3], 3])
 
     def test_prices_that_catch_up(self):
         # The block that costs more for its weight is cheaper at first.
@@ -167,6 +176,10 @@ class CheapestChains(unittest.TestCase):
         for ask in (cheapest, found.shows):
             with self.assertRaises(TooLarge):
                 ask(ONE, {'p': 1, 'r': 100}, PRICES, 2500)
+        self.assertEqual(cheapest(fam('p{2}'), WEIGHTS, PRICES, 1665), None)
+        with self.assertRaises(TooLarge):
+            # Three states, and 1667 rests: 5001.
+            cheapest(fam('p{2}'), WEIGHTS, PRICES, 1666)
         self.assertEqual(cheapest(fam('p{4}'), WEIGHTS, PRICES, 999), None)
         with self.assertRaises(TooLarge):
             cheapest(fam('p{4}'), WEIGHTS, PRICES, 1000)
@@ -239,6 +252,22 @@ class Evidence(unittest.TestCase):
         self.assertIs(self.shown(row('p p'), 2, worths), True)
         worths[4][0] = 1
         self.assertIs(self.shown(row('p p'), 2, worths), False)
+
+    def test_chains_of_other_families_and_dearer_chains(self):
+        # Total and price are right, but the chain is not in the family, or the told price is not its price.
+        some = fam('p{3} | r p')
+        found = cheapest(some, {'p': 1, 'r': 2}, PRICES, 3)
+        self.assertEqual(found.cost, 2)
+        self.assertIs(Cheapest(row('p r'), 2, found.worths).shows(some, {'p': 1, 'r': 2}, PRICES, 3), True)
+        self.assertIs(Cheapest(row('p p p'), 2, found.worths).shows(some, {'p': 1, 'r': 2}, PRICES, 3), False)
+        self.assertIs(Cheapest(row('p p p'), 3, found.worths).shows(some, {'p': 1, 'r': 2}, PRICES, 3), False)
+        some = fam('p{3} | r r')
+        found = cheapest(some, {'p': 2, 'r': 3}, {'p': 1, 'r': 2}, 6)
+        self.assertEqual([found.chain, found.cost], [row('p p p'), 3])
+        some = fam('p p r r')
+        found = cheapest(some, WEIGHTS, PRICES, 10)
+        self.assertIs(Cheapest(row('r p p r'), 4, found.worths).shows(some, WEIGHTS, PRICES, 10), False)
+        self.assertIs(Cheapest(row('r r p p'), 4, found.worths).shows(some, WEIGHTS, PRICES, 10), True)
 
     def test_other_family_and_dearer_chain(self):
         self.assertIs(Cheapest(row('p p p'), 3, [[None, 0], [None] * 2, [1, 1], [1, 1], [2, 2], [2, 2], [2, 2]])

@@ -1,6 +1,6 @@
 import unittest
 
-from endsmeet.errors import BadChain, BadNumber, BadSheet
+from endsmeet.errors import BadChain, BadNumber, BadSheet, TooLarge
 from endsmeet.families import family
 from endsmeet.placing import ring_form
 from endsmeet.reading import read_recipe
@@ -85,6 +85,9 @@ class Sets(unittest.TestCase):
         one, other = rings('p+ r'), rings('(p | r)+')
         self.assertEqual([one.within(other), other.within(one), one.parting(other)], [True, False, row('p')])
         self.assertEqual(other.parting(one), row('p'))
+        # The same arrows with other ends, and the same ends with other arrows.
+        self.assertNotEqual(rings('p p'), rings('p | p p'))
+        self.assertNotEqual(rings('p'), rings('r'))
         self.assertNotEqual(one, None)
         self.assertNotEqual(one, fam('p+ r'))
         self.assertNotEqual(fam('p+ r'), one)
@@ -152,6 +155,21 @@ class Numbers(unittest.TestCase):
         some = rings('(p | r){13}')
         self.assertEqual(count_rings(some, 13), bracelets(13))
         self.assertEqual(count_rings(some, 12), 0)
+
+    def test_too_many_different_things(self):
+        # In the middles of many unlike rings rows do many unlike things, but shorter and longer rows do not.
+        rnd = seeded(191)
+        sheet = Sheet({'k': 'k'}, {name: ('k', 'k') for name in 'pqrst'})
+        told = [' '.join(rnd.choice('pqrst') for _ in range(14)) for _ in range(154)]
+        some = fam(' | '.join(told[:14]), sheet)
+        for at in range(14, 154, 14):
+            some = some.either(fam(' | '.join(told[at:at + 14]), sheet))
+        found = rings_of(some)
+        for many in (1, 2, 5):
+            self.assertEqual(count_rings(found, many), 0)
+        for many in (6, 14, 60):
+            with self.assertRaises(TooLarge):
+                count_rings(found, many)
 
     def test_errors(self):
         for many in BAD_FOR_INT + (0, -1, 61, 10 ** 30):

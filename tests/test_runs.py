@@ -124,6 +124,9 @@ class Evidence(unittest.TestCase):
             (row('r'), row('p'), [('p', 1)], False), (row('p'), row('p'), row('r'), False), ([], [], [], False),
         ):
             self.assertIs(Unending(front, loop, back).shows(some, ('p',)), shown, (front, loop, back))
+        for bad in ([['p', 0]], [None], [('p',)], ['p'], [5], [('p', 0, 0)], [(['p'], 0)]):
+            for parts in ((bad, row('p'), row('r')), (row('r'), bad, row('r')), (row('r'), row('p'), bad)):
+                self.assertIs(Unending(*parts).shows(some, ('p',)), False)
         # The loop once or twice is not enough.
         some = fam('r (p{3})* r | r p p r')
         self.assertIs(Unending(row('r'), row('p'), row('r')).shows(some, ('p',)), False)

@@ -109,6 +109,10 @@ class ChainOfAmounts(unittest.TestCase):
             chain_of_amounts(some, {'p': 99, 'r': 100})
         with self.assertRaises(TooLarge):
             chain_of_amounts(some, {'p': 10000})
+        self.assertEqual(chain_of_amounts(fam('p{2}'), {'p': 6665}), None)
+        with self.assertRaises(TooLarge):
+            # Three states, and 6667 amounts of parts: 20001.
+            chain_of_amounts(fam('p{2}'), {'p': 6666})
         self.assertEqual(chain_of_amounts(fam('p{4}'), {'p': 3999}), None)
         with self.assertRaises(TooLarge):
             chain_of_amounts(fam('p{4}'), {'p': 4000})

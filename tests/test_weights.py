@@ -1,6 +1,7 @@
 import unittest
 
 from endsmeet.errors import BadNumber, BadWeights, TooLarge
+from endsmeet.sheets import Sheet
 from endsmeet.weights import Spectrum, chain_of_total, spectrum
 from tests.family_support import BAD_FOR_INT, MIXED, PR, SHEET, fam, random_families, row
 from tests.recipe_support import placed_blocks
@@ -65,6 +66,11 @@ class Spectra(unittest.TestCase):
         # The states repeat themselves with longer periods than the totals do.
         found = spectrum(fam('(p p p p)+ | (p p p p)* p p'), {'p': 1, 'r': 1})
         self.assertEqual(told(found), [1, 2, [], [0]])
+        sheet = Sheet({'k': 'k'}, {'p': ('k', 'k'), 'q': ('k', 'k'), 'r': ('k', 'k')})
+        found = spectrum(fam('(p q r)* (p | p q | p q r)', sheet), {'p': 1, 'q': 1, 'r': 1})
+        self.assertEqual(told(found), [1, 1, [], [0]])
+        found = spectrum(fam('(p q r)* (p | p q r)', sheet), {'p': 1, 'q': 2, 'r': 1})
+        self.assertEqual(told(found), [1, 4, [], [0, 1]])
         with self.assertRaises(TooLarge):
             spectrum(fam('(p | r)+'), {'p': 99, 'r': 100})
         self.assertEqual(told(spectrum(fam('(p | r)+'), {'p': 9, 'r': 10}))[:2], [72, 1])
