@@ -78,7 +78,7 @@ def _net_of(family, joints):
     """A net that takes the words of the fragments of a family.
 
     It has a state for each state of the machine of the family as it is within a fragment, one for each as it is where
-    a fragment begins, and one behind the mark of a right end.
+    a fragment begins, one ahead of the mark of a left end, and one behind that of a right end.
     """
     net = Net()
     machine = family.machine
@@ -87,8 +87,10 @@ def _net_of(family, joints):
         net.new_state(is_end)
     for _ in range(many):
         net.new_state(False)
+    # The start of the machine can be behind a cut, too, so that the mark has a state of its own ahead of it.
+    opened = net.new_state(False)
     closed = net.new_state(True)
-    net.starts.append(many)
+    net.starts.extend([many, opened])
     is_entered = {other: True for row in machine.arrows for other in row.values()}
     for state, row in enumerate(machine.arrows):
         for sign, other in row.items():
@@ -96,7 +98,7 @@ def _net_of(family, joints):
         # What goes on from a state that is entered all meets the same kind.
         if state in is_entered and any([_is_cut(family.sheet, joints, sign) for sign in row]):
             net.draw(state, MARK, closed)
-            net.draw(many, MARK, many + state)
+            net.draw(opened, MARK, many + state)
         else:
             for sign, other in row.items():
                 net.draw(state, sign, other)

@@ -40,6 +40,26 @@ def words_of(sheet, recipe, most):
     return found | {tuple(turning(sheet, list(word))) for word in found}
 
 
+def looped(rnd, sheet, recipe):
+    """A recipe with the same loop on either side, so that its family often comes back to its start."""
+    loop = random_recipe(rnd, sheet, 2, 2)
+    return 'row', (('times', loop, 0, None), recipe, ('times', ('turned', loop), 0, None))
+
+
+def comes_back(table):
+    """Whether an arrow of a least machine leads to its start."""
+    return 0 in [other for _, _, other in table[0]]
+
+
+def words_along(table, most):
+    """All words with at most so many signs that a table takes, as tuples."""
+    found, now = set(), [((), 0)]
+    for _ in range(most + 1):
+        found |= {word for word, state in now if state in table[1]}
+        now = [(word + (sign,), other) for word, here in now for state, sign, other in table[0] if state == here]
+    return found
+
+
 def random_families(rnd, times, most_blocks=3, most_depth=5, joints=2, most_ends=2):
     """Sheets, recipes that fit, their families, numbers of blocks, and all words with at most so many."""
     while times:
@@ -49,6 +69,8 @@ def random_families(rnd, times, most_blocks=3, most_depth=5, joints=2, most_ends
             sheet = rnd.choice(EASY)
         if placed_blocks(sheet):
             recipe = random_recipe(rnd, sheet, rnd.randint(1, most_depth))
+            if rnd.random() < 0.2:
+                recipe = looped(rnd, sheet, recipe)
             if misfit(sheet, recipe) is None:
                 most = most_listed(recipe)
                 yield sheet, recipe, family(sheet, recipe), most, words_of(sheet, recipe, most)

@@ -1,10 +1,13 @@
+import itertools
 import unittest
 
 from endsmeet.cutting import Fragments, cut_chain, fragments
 from endsmeet.errors import BadChain, BadKind, BadSheet
 from endsmeet.placing import turned
 from endsmeet.sheets import Sheet
-from tests.family_support import MIXED, PR, SHEET, check_least, fam, random_families, row, walk
+from tests.family_support import (
+    EASY, MIXED, PR, SHEET, check_least, comes_back, fam, random_families, row, walk, words_along,
+)
 from tests.recipe_support import all_chains
 from tests.support import AB, seeded
 from tests.test_placing import NO_CHAINS
@@ -20,6 +23,21 @@ def word_of(fragment):
 
 def order(fragment):
     return len(word_of(fragment)), word_of(fragment)
+
+
+def short_fragments(some, cut, most):
+    """All fragments of a family with at most so many blocks, as triples with tuples; None, if to list them takes long.
+
+    From the start to any state, and from any state to an end, as many blocks as there are states are enough.
+    """
+    states = 1 + max([0] + [other for _, _, other in some.table()[0]])
+    longest = most + 2 * states
+    if longest > 12 or len(some.table()[0]) > 2 * states:
+        return None
+    return {
+        (tuple(chain), left, right) for word in words_along(some.table(), longest)
+        for chain, left, right in cut_chain(some.sheet, cut, word) if len(chain) <= most
+    }
 
 
 class Fragmenting(unittest.TestCase):
@@ -79,9 +97,61 @@ class Fragmenting(unittest.TestCase):
         self.assertIs(none.has(row('p'), True, False), False)
         self.assertEqual(none.parting(fragments(fam('r'), ())), (row('r'), False, False))
 
+    def check_short(self, found, cut, most):
+        """That just the right fragments with at most so many blocks are there; False, if to list them takes long."""
+        plain = short_fragments(found, cut, most)
+        if plain is None:
+            return False
+        some = fragments(found, cut)
+        check_least(self, some.table())
+        for chain in all_chains(found.sheet, most):
+            for left in (False, True):
+                for right in (False, True):
+                    is_in = (tuple(chain), left, right) in plain
+                    self.assertIs(some.has(chain, left, right), is_in, (chain, left, right))
+                    self.assertIs(walk(some.table(), word_of((chain, left, right))), is_in)
+        first = min(plain, key=order, default=None)
+        if first is not None and order(first)[0] <= most:
+            self.assertEqual(some.first(), (list(first[0]), first[1], first[2]))
+        # No fragment has two marks on one side, or no block.
+        for word in words_along(some.table(), 4):
+            self.assertNotIn(MARK, word[1:-1])
+            self.assertNotIn(word, ((MARK,), (MARK, MARK)))
+        return True
+
+    def test_machines_that_come_back_to_their_start(self):
+        # Whether a fragment begins a chain or behind a cut is not told by the state of the family's machine.
+        turned_over = Sheet(AB, {'x': ('a', 'b'), 'y': ('a', 'a')})
+        for sheet, told in (
+            (PR, 'p (p p)*'), (PR, '(p | r)* p (p | r)*'), (PR, '(p p)* r (p p)*'), (PR, 'p{2} (p{3})*'),
+            (EASY[1], '(~q q)* p (~q q)*'), (EASY[1], '(r ~r)* p (r ~r)*'), (EASY[1], '(r q)* p (~q ~r)*'),
+            (turned_over, 'x* y ~x*'),
+        ):
+            one = fam(told, sheet)
+            self.assertTrue(comes_back(one.table()), told)
+            for at in range(len(sheet.joints()) + 1):
+                for cut in itertools.combinations(sheet.joints(), at):
+                    self.assertTrue(self.check_short(one, cut, 3), (told, cut))
+            self.assertEqual(fragments(one, ()).table(), one.table())
+            some = fragments(one, tuple(sheet.joints()))
+            self.assertIs(some.is_endless(), False)
+            self.assertEqual({len(word) for word in words_along(some.table(), 5)} - {1, 2, 3}, set())
+
+    def test_single_blocks_of_endless_families(self):
+        one = fragments(fam('p (p p)*'), ('k',))
+        self.assertEqual(one.table(), ([(0, MARK, 1), (0, ('p', 0), 2), (1, ('p', 0), 2), (2, MARK, 3)], [2, 3]))
+        for told, is_same in (('p | p{3}', True), ('p | p{20}', True), ('p{3}', False), ('p | p{2}', False), ('p+', True)):
+            other = fragments(fam(told), ('k',))
+            self.assertIs(one == other, is_same, told)
+            self.assertIs(one.parting(other) is None, is_same)
+            self.assertIs(other.within(one), True)
+            self.assertIs(one.within(other), is_same)
+        self.assertEqual(one.parting(fragments(fam('p{3}'), ('k',))), (row('p'), False, False))
+        self.assertEqual(one.parting(fragments(fam('p | p{2}'), ('k',))), (row('p'), True, True))
+
     def test_held_against_plain_listing(self):
         rnd = seeded(230)
-        several = 0
+        several, endless = 0, {False: 0, True: 0}
         for sheet, recipe, found, most, words in random_families(rnd, 250, 4):
             joints = sheet.joints()
             cut = tuple(sorted(rnd.sample(joints, rnd.randint(0, len(joints)))))
@@ -91,6 +161,8 @@ class Fragmenting(unittest.TestCase):
             for chain, left, right in plain:
                 self.assertIs(some.has(chain, left, right), True)
                 self.assertIs(some.has(turned(sheet, chain), right, left), True)
+            if found.is_endless() and self.check_short(found, cut, 2):
+                endless[comes_back(found.table())] += 1
             states = 1 + max([0] + [other for _, _, other in found.table()[0]])
             if not found.is_endless() and states <= most + 1:
                 for chain in all_chains(sheet, 3):
@@ -104,6 +176,8 @@ class Fragmenting(unittest.TestCase):
                 self.assertEqual(told, None if first is None else (list(first[0]), first[1], first[2]))
                 several += 1
         self.assertGreater(several, 80)
+        self.assertGreater(endless[False], 15)
+        self.assertGreater(endless[True], 3)
 
     def test_fragments_of_endless_families(self):
         rnd = seeded(231)
